@@ -1,0 +1,1 @@
+"""Cutorclose: books reckoned place by place, in every order."""

@@ -1,0 +1,83 @@
+"""The interface: names where they are listed, by position and by name, arguments left as they were [2] [13]."""
+
+import copy
+import importlib
+import inspect
+import types
+import unittest
+
+from tests.support import BOTH, RING, STAR, Case
+
+# For each function its module, its name, its parameters, and rows of arguments, also wrong ones.
+FUNCTIONS = [
+    ("kinds", "is_integer", "thing", [(1,), (True,), ([1, [2]],)]),
+    ("kinds", "is_number", "thing", [(0,), (-1,), ([[0]],)]),
+    ("kinds", "is_prime", "thing", [(7,), (9,), ([7],)]),
+    ("kinds", "is_quotient", "thing", [((1, 2),), ([1, 2],)]),
+    ("kinds", "is_word", "prime size thing", [(3, 2, (0, 2)), (3, 2, [0, 2])]),
+    ("kinds", "is_lot", "size thing", [(3, (0, 2)), (3, [0, 2])]),
+    ("kinds", "is_order", "size thing", [(2, (1, 0)), (2, [1, 0])]),
+    ("kinds", "is_book", "thing", [(RING,), ([2, 1, [[1]]],)]),
+    ("quotients", "plus", "one other", [((1, 2), (1, 3)), ([1, 2], (1, 3))]),
+    ("quotients", "minus", "one other", [((1, 2), (1, 3)), ((1, 2), [1, 3])]),
+    ("quotients", "times", "one other", [((1, 2), (1, 3)), ([1], [2])]),
+    ("quotients", "over", "one other", [((1, 2), (1, 3)), ((1, 2), (0, 1))]),
+    ("quotients", "raised", "one many", [((1, 2), 3), ((1, 2), [3])]),
+    ("bookchecker", "lets_book", "thing", [(RING,), ((2, 1, [[1]]),), ([2, [1]],)]),
+    ("books", "span_of", "prime size words", [(2, 2, ((1, 1),)), (2, 2, [[1, 1]])]),
+    ("books", "has_word", "book word", [(RING, (1, 1, 0)), (RING, [1, 1, 0])]),
+    ("books", "words_of", "book", [(RING,)]),
+    ("books", "checks_of", "book", [(RING,)]),
+    ("books", "beside", "one other", [(RING, STAR), (RING, (3, 0, ()))]),
+    ("lots", "rank_of", "book", [(RING,)]),
+    ("lots", "rank_on", "book lot", [(RING, (0, 2)), (RING, [0, 2])]),
+    ("lots", "is_free", "book lot", [(RING, (0, 2)), (RING, [0, 2])]),
+    ("lots", "kind_at", "book place", [(RING, 1), (RING, [1])]),
+    ("lots", "bases_of", "book", [(BOTH,)]),
+    ("takes", "kept_by", "size lot", [(3, (0, 2)), (3, [0, 2])]),
+    ("takes", "cut_at", "book lot", [(RING, (0,)), (RING, [0])]),
+    ("takes", "closed_at", "book lot", [(RING, (0,)), (RING, [0])]),
+    ("takes", "left_by", "book closed cut", [(RING, (0,), (1,)), (RING, [0], [1]), (RING, (0,), [1])]),
+    ("booktexts", "book_line", "book", [(BOTH,)]),
+    ("bookreadings", "read_book", "text", [("book 2 1 / 1",), ("book 2 1 / 2",), (["book"],)]),
+]
+
+
+def outcome(call, args, named):
+    """What a call gives, or the kind and the fields of its error."""
+    try:
+        result = call(*args, **named)
+        return list(result) if isinstance(result, types.GeneratorType) else result
+    except ValueError as error:
+        return [error.__class__.__name__, vars(error)]
+
+
+class Interface(Case):
+    def test_functions_stand_in_their_modules(self):
+        for module, name, parameters, _ in FUNCTIONS:
+            call = getattr(importlib.import_module("cutorclose." + module), name)
+            self.assertEqual(call.__module__, "cutorclose." + module)
+            self.assertEqual(list(inspect.signature(call).parameters), parameters.split())
+
+    def test_by_position_and_by_name(self):
+        for module, name, parameters, rows in FUNCTIONS:
+            call = getattr(importlib.import_module("cutorclose." + module), name)
+            for row in rows:
+                named = dict(zip(parameters.split(), row))
+                backwards = dict(reversed(list(named.items())))
+                first = outcome(call, row, {})
+                self.exact(outcome(call, (), named), first)
+                self.exact(outcome(call, (), backwards), first)
+                self.exact(outcome(call, row[:1], dict(list(named.items())[1:])), first)
+
+    def test_arguments_stay_as_they_were(self):
+        for module, name, _, rows in FUNCTIONS:
+            call = getattr(importlib.import_module("cutorclose." + module), name)
+            for row in rows:
+                before = copy.deepcopy(row)
+                outcome(call, row, {})
+                self.exact(row, before)
+
+
+if __name__ == "__main__":
+    unittest.main()
