@@ -29,9 +29,9 @@ def kind_at(book, place):
     held = [row for row in rows if row[place] != 0]
     if len(held) == 0:
         return "idle"
-    # All other places lack a rank just where the word with a digit at this place alone is in the
-    # book; in settled form it is then a row, and all other rows have 0 there.
-    if len(held) == 1 and held[0].count(0) == size - 1:
+    # All other places lack a rank just where the word with 1 at this place and 0 elsewhere is in
+    # the book; in settled form it is then a row, and the only one that is not 0 there.
+    if held[0].count(0) == size - 1:
         return "alone"
     return "ordinary"
 

@@ -1,5 +1,6 @@
 """The examples that the document gives, as they are written there, in the files of the folder examples."""
 
+import doctest
 import pathlib
 import re
 import unittest
@@ -48,6 +49,11 @@ class Examples(Case):
             self.run_file(paths[0], names)
             self.run_file(path, names)
         self.assertGreater(len(paths), 1)
+
+    def test_readme(self):
+        told = doctest.testfile(str(FOLDER.parent.parent / "README.md"), module_relative=False)
+        self.assertEqual(told.failed, 0)
+        self.assertGreater(told.attempted, 0)
 
 
 if __name__ == "__main__":

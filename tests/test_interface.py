@@ -6,7 +6,7 @@ import inspect
 import types
 import unittest
 
-from tests.support import BOTH, RING, STAR, Case
+from tests.support import BOTH, FOUR, ODD, RING, STAR, Case
 
 # For each function its module, its name, its parameters, and rows of arguments, also wrong ones.
 FUNCTIONS = [
@@ -40,6 +40,40 @@ FUNCTIONS = [
     ("takes", "left_by", "book closed cut", [(RING, (0,), (1,)), (RING, [0], [1]), (RING, (0,), [1])]),
     ("booktexts", "book_line", "book", [(BOTH,)]),
     ("bookreadings", "read_book", "text", [("book 2 1 / 1",), ("book 2 1 / 2",), (["book"],)]),
+    ("knots", "knots_of", "book", [(BOTH,)]),
+    ("knots", "bonds_of", "book", [(BOTH,)]),
+    ("knots", "knots_at", "book place", [(BOTH, 4), (BOTH, [4])]),
+    ("partings", "parts_of", "book", [(BOTH,)]),
+    ("partings", "part_at", "book place", [(BOTH, 4), (BOTH, [4])]),
+    ("partings", "adds_up", "book lot", [(BOTH, (0, 1, 2)), (BOTH, [0])]),
+    ("twins", "are_alike", "book one other", [(STAR, 0, 2), (STAR, [0], 2), (STAR, 0, [2])]),
+    ("twins", "are_in_row", "book one other", [(RING, 0, 2), (RING, [0], 2), (RING, 0, 0)]),
+    ("twins", "alike_sets", "book", [(BOTH,)]),
+    ("twins", "row_sets", "book", [(BOTH,)]),
+    ("leavings", "pair_left", "book one other", [(RING, 0, 1), (RING, 1, 0), (RING, 0, [1])]),
+    ("leavings", "ring_left", "book lot", [(RING, (0, 1, 2)), (RING, [0, 1, 2])]),
+    ("leavings", "star_left", "book lot", [(STAR, (0, 1, 2)), (STAR, [0, 1, 2])]),
+    ("leavings", "pairs_of", "book", [(BOTH,)]),
+    ("leavings", "rings_of", "book", [(BOTH,)]),
+    ("leavings", "stars_of", "book", [(BOTH,)]),
+    ("leavepapers", "leave_paper", "book lot", [(BOTH, (0, 3)), (BOTH, [0, 3])]),
+    ("leavechecker", "lets_left", "book lot thing", [(RING, (0, 1), ("pair", (2,))), (RING, (0, 1), ["pair", [2]]),
+                                                     (RING, (0, 1), ("pair", [2])), (RING, [0, 1], [])]),
+    ("rulekinds", "is_rule", "size thing", [(3, ODD), (3, list(ODD)), (1, ([[1, 1]],))]),
+    ("rulekinds", "rule_left", "rule lot", [(ODD, (0, 1)), (ODD, [0, 1]), ([], [])]),
+    ("rulekinds", "rule_of_checks", "rule", [(ODD,), (list(ODD),)]),
+    ("rulekinds", "same_rule", "size four", [(2, FOUR), (2, list(FOUR))]),
+    ("rulechecker", "lets_rule", "size thing", [(3, ODD), (1, ([[1, 1]],)), ([1], [])]),
+]
+
+# For each class its module, its name, the parameters of its creation, and what its own body has to hold.
+CLASSES = [
+    ("bookclasses", "Book", "book", {"cut": "lot", "closed": "lot", "left": "closed cut", "__call__": "lot"},
+     "form_now prime_now size_now rank_now __getitem__ __invert__ __add__ __contains__ __len__ __iter__ __str__ __eq__ read span"),
+    ("bookclasses", "Flat", "prime size", {"pair_word": "place other"}, ""),
+    ("shapeclasses", "Shape", "book",
+     {"kinds": "", "pair": "place other", "ring": "lot", "star": "lot", "like": "other", "__call__": "lot"},
+     "form_now parts_now knots_now bonds_now __getitem__ __contains__ __len__ __iter__ __invert__ __eq__"),
 ]
 
 
@@ -58,6 +92,16 @@ class Interface(Case):
             call = getattr(importlib.import_module("cutorclose." + module), name)
             self.assertEqual(call.__module__, "cutorclose." + module)
             self.assertEqual(list(inspect.signature(call).parameters), parameters.split())
+
+    def test_classes_hold_their_own_methods(self):
+        for module, name, parameters, methods, others in CLASSES:
+            kind = getattr(importlib.import_module("cutorclose." + module), name)
+            self.assertEqual(kind.__module__, "cutorclose." + module)
+            self.assertEqual(list(inspect.signature(kind).parameters), parameters.split())
+            for method, its in methods.items():
+                self.assertEqual(list(inspect.signature(vars(kind)[method]).parameters)[1:], its.split())
+            for each in others.split():
+                self.assertIn(each, vars(kind))
 
     def test_by_position_and_by_name(self):
         for module, name, parameters, rows in FUNCTIONS:
