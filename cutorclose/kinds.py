@@ -40,6 +40,11 @@ def is_quotient(thing):
     return bottom >= 1 and gcd(top, bottom) == 1
 
 
+def is_quotient_pair(thing):
+    """Whether any value is a pair of quotients, as ties are."""
+    return is_tuple_of(2, thing) and is_quotient(thing[0]) and is_quotient(thing[1])
+
+
 def is_word(prime, size, thing):
     """Whether any value is a word of this prime and size."""
     return is_tuple_of(size, thing) and all([is_below(prime, digit) for digit in thing])

@@ -12,19 +12,19 @@ RANKS = {"pair": 1, "ring": 2, "star": 1}
 def pair_left(book, one, other):
     """A lot by which, closed, both places are left as a pair, or None."""
     need_two_places(book[1], one, other, "one")
-    return closing(ranks_of(book), (min(one, other), max(one, other)), RANKS["pair"])
+    return closed_for(book, "pair", (min(one, other), max(one, other)))
 
 
 def ring_left(book, lot):
     """A lot by which, closed, the three places are left as a ring, or None."""
     need_three(book, lot)
-    return closing(ranks_of(book), lot, RANKS["ring"])
+    return closed_for(book, "ring", lot)
 
 
 def star_left(book, lot):
     """A lot by which, closed, the three places are left as a star, or None."""
     need_three(book, lot)
-    return closing(ranks_of(book), lot, RANKS["star"])
+    return closed_for(book, "star", lot)
 
 
 def pairs_of(book):
@@ -40,6 +40,11 @@ def rings_of(book):
 def stars_of(book):
     """The set of the lots of three places that can be left as a star."""
     return lots_left(book, 3, RANKS["star"])
+
+
+def closed_for(book, word, lot):
+    """A lot by which, closed, the lot is left as a pair, a ring or a star, as the word says; or None."""
+    return closing(ranks_of(book), lot, RANKS[word])
 
 
 def need_three(book, lot):

@@ -1,9 +1,12 @@
 """Quotients: pairs (top, bottom) in lowest terms, reckoned with as the numbers they stand for."""
 
-from math import gcd
+from math import gcd, lcm
 
 from cutorclose.kinds import is_number, is_quotient
 from cutorclose.needs import need
+
+NOUGHT = (0, 1)
+ONE = (1, 1)
 
 
 def plus(one, other):
@@ -39,6 +42,32 @@ def raised(one, many):
     need(is_quotient(one), "one")
     need(is_number(many), "many")
     return (power(one[0], many), power(one[1], many))
+
+
+def summed(ones):
+    """The sum of all quotients of a list."""
+    total = NOUGHT
+    for one in ones:
+        total = plus(total, one)
+    return total
+
+
+def multiplied(ones):
+    """The product of all quotients of a list."""
+    result = ONE
+    for one in ones:
+        result = times(result, one)
+    return result
+
+
+def ascending(ones):
+    """A tuple of the quotients of a list, ascending as they are compared, without duplicates."""
+    common = 1
+    for one in ones:
+        common = lcm(common, one[1])
+    # With one bottom for all, they are compared as their tops.
+    tops = [top * (common // bottom) for top, bottom in ones]
+    return tuple([lowest(top, common) for top in sorted(set(tops))])
 
 
 def need_both(one, other):

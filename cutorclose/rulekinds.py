@@ -34,6 +34,16 @@ def is_four(thing):
     return is_tuple_of(4, thing) and all([is_quotient(number) for number in thing])
 
 
+def rule_with(rule, place, four):
+    """The rule with this four at the place."""
+    return (*rule[:place], four, *rule[place + 1:])
+
+
+def need_rule(book, rule):
+    """Refuse what is no rule of the book's size."""
+    need(is_rule(book[1], rule), "rule")
+
+
 def need_any_rule(rule):
     """Refuse what is no rule, of whatever size."""
     need(isinstance(rule, tuple) and is_rule(len(rule), rule), "rule")

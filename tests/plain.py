@@ -1,10 +1,16 @@
-"""Plain reckoning for the tests: books as sets of words, all by the words of the definitions."""
+"""Plain reckoning for the tests: books as sets of words, all by the words of the definitions.
 
+Rules are reckoned with as fractions; worths are told as fractions, too.
+"""
+
+import functools
 import itertools
+from fractions import Fraction
 
-from tests.support import lots_of
+from tests.support import lots_of, splits
 
 
+@functools.cache
 def words(book):
     """The set of all sums of multiples of the rows."""
     prime, size, rows = book
@@ -56,12 +62,14 @@ def checks(a_book):
     return book(prime, size, found)
 
 
+@functools.cache
 def cut(a_book, lot):
     prime, size, _ = a_book
     kept = others(size, lot)
     return book(prime, len(kept), {cut_to(word, kept) for word in words(a_book)})
 
 
+@functools.cache
 def closed(a_book, lot):
     prime, size, _ = a_book
     kept = others(size, lot)
@@ -73,6 +81,7 @@ def left(a_book, closed_lot, cut_lot):
     return cut(closed(a_book, closed_lot), tuple(kept.index(place) for place in cut_lot))
 
 
+@functools.cache
 def kind(a_book, place):
     if all(word[place] == 0 for word in words(a_book)):
         return "idle"
@@ -131,3 +140,99 @@ def closings(a_book, lot, judge):
             if judge(left(a_book, closed_lot, cut_lot)):
                 found.append(closed_lot)
     return found
+
+def all_left(a_book, rule):
+    """All that can be left of a book, each with both lots and its rule."""
+    for closed_lot, cut_lot in splits(a_book[1]):
+        yield closed_lot, cut_lot, left(a_book, closed_lot, cut_lot), without(rule, closed_lot + cut_lot)
+
+
+def pair(fraction):
+    return (fraction.numerator, fraction.denominator)
+
+
+def fours(rule):
+    """The rule with fractions for quotients."""
+    return tuple(tuple(Fraction(*number) for number in four) for four in rule)
+
+
+def without(rule, lot):
+    return tuple(four for place, four in enumerate(rule) if place not in lot)
+
+
+def ways(a_book, rule, place):
+    """The ways of a place: a number, what is left, and its rule."""
+    number = {"idle": [(3, cut)], "alone": [(2, closed)], "ordinary": [(0, closed), (1, cut)]}
+    for index, take in number[kind(a_book, place)]:
+        yield Fraction(*rule[place][index]), take(a_book, (place,)), without(rule, (place,))
+
+
+def worth_by(a_book, rule, order):
+    """The worth by an order, its places told as they are called in the whole book."""
+    names = tuple(range(a_book[1]))
+    return named_worth(a_book, rule, names, order)
+
+
+def named_worth(a_book, rule, names, order):
+    if not order:
+        return Fraction(1)
+    place = names.index(order[0])
+    rest = without(names, (place,))
+    return sum(number * named_worth(a_left, its, rest, order[1:]) for number, a_left, its in ways(a_book, rule, place))
+
+
+@functools.cache
+def tree_worths(a_book, rule):
+    """The set of all worths by all trees of choices."""
+    if a_book[1] == 0:
+        return frozenset([Fraction(1)])
+    found = set()
+    for place in range(a_book[1]):
+        told = [[number * worth for worth in tree_worths(a_left, its)] for number, a_left, its in ways(a_book, rule, place)]
+        found |= {sum(each) for each in itertools.product(*told)}
+    return frozenset(found)
+
+
+def fits(a_book, rule):
+    """Whether the book and each thing that can be left of it has one worth by all trees."""
+    return all(len(tree_worths(a_left, its)) == 1 for _, _, a_left, its in all_left(a_book, rule))
+
+
+def pair_gap(rule, e, f):
+    (x_e, y_e, X_e, Y_e), (x_f, y_f, X_f, Y_f) = fours(rule)[e], fours(rule)[f]
+    return x_e * Y_f + y_e * X_f - x_f * Y_e - y_f * X_e
+
+
+def bracket(rule, e, f):
+    (x_e, y_e, _, Y_e), (x_f, y_f, _, Y_f) = fours(rule)[e], fours(rule)[f]
+    return x_e * Y_f - x_f * Y_e + y_e * x_f - y_f * x_e
+
+
+def tie_holds(rule, u, v, lot):
+    """Whether X = x + u y and Y = y + v x at all places of the lot, u and v being fractions."""
+    return all(X == x + u * y and Y == y + v * x for x, y, X, Y in (fours(rule)[place] for place in lot))
+
+
+def tie(rule, lot):
+    """The pair (u, v) of the tie at all places of the lot, None for each that is free; or no pair but None."""
+    its = [fours(rule)[place] for place in lot]
+    u = next(((X - x) / y for x, y, X, _ in its if y), None)
+    v = next(((Y - y) / x for x, y, _, Y in its if x), None)
+    return (u, v) if tie_holds(rule, u or Fraction(0), v or Fraction(0), lot) else None
+
+
+def tie_sum(a_book, rule, u, v):
+    """The sum over all lots, u and v being fractions."""
+    whole = rank(a_book, tuple(range(a_book[1])))
+    total = Fraction(0)
+    for lot in lots_of(a_book[1]):
+        term = u ** (whole - rank(a_book, lot)) * v ** (len(lot) - rank(a_book, lot))
+        for place, four in enumerate(fours(rule)):
+            term *= four[0] if place in lot else four[1]
+        total += term
+    return total
+
+
+def noughtless(a_book, rule):
+    """Whether none of the four numbers is 0 of any place that is of one part with another place."""
+    return all(all(number[0] for number in rule[place]) for part in parts(a_book) if len(part) > 1 for place in part)

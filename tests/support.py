@@ -1,8 +1,10 @@
 """What the tests share: values, books of small sizes, and checks that look at kinds, too."""
 
 import itertools
+import random
 import types
 import unittest
+from fractions import Fraction
 
 RING, STAR = (2, 3, ((1, 0, 1), (0, 1, 1))), (2, 3, ((1, 1, 1),))
 BOTH = (2, 6, ((1, 0, 1, 0, 0, 0), (0, 1, 1, 0, 0, 0), (0, 0, 0, 1, 1, 1)))
@@ -55,6 +57,11 @@ def lots_of(size):
     return [lot for many in range(size + 1) for lot in itertools.combinations(range(size), many)]
 
 
+def splits(size):
+    """All pairs of lots without a common place."""
+    return [(one, other) for one in lots_of(size) for other in lots_of(size) if not set(one) & set(other)]
+
+
 def books_of(prime, size):
     """All books of this prime and size, straight from what settled form means."""
     for leads in lots_of(size):
@@ -79,3 +86,64 @@ GREAT_BOOKS = [
     (5, 5, ((1, 0, 1, 1, 1), (0, 1, 1, 2, 4))),
     (7, 5, ((1, 0, 0, 3, 0), (0, 1, 0, 6, 0), (0, 0, 1, 0, 5))),
 ]
+
+# Numbers for rules, so few that gaps come to nought by chance, too.
+NUMBERS = [Fraction(0), Fraction(0), Fraction(1), Fraction(1), Fraction(-1), Fraction(2), Fraction(1, 2), Fraction(-3, 2)]
+
+
+def quotient(fraction):
+    return (fraction.numerator, fraction.denominator)
+
+
+def quotients(fractions):
+    return tuple(quotient(each) for each in fractions)
+
+
+def four_by(x, y, u, v, slack=1):
+    """The four of a place at which the tie (u, v) holds; with a slack other than 1 pair gaps alone are nought."""
+    return quotients((x, y, slack * x + u * y, slack * y + v * x))
+
+
+def any_four(dice):
+    return quotients(dice.choice(NUMBERS) for _ in range(4))
+
+
+def tied_fours(dice, size, numbers, slack=1):
+    """Fours for which one tie holds."""
+    u, v = dice.choice(numbers), dice.choice(numbers)
+    return [four_by(dice.choice(numbers), dice.choice(numbers), u, v, slack) for _ in range(size)]
+
+
+def changed(dice, fours):
+    """The fours with another number somewhere."""
+    place, index = dice.randrange(len(fours)), dice.randrange(4)
+    four = list(fours[place])
+    four[index] = quotient(dice.choice(NUMBERS))
+    return [*fours[:place], tuple(four), *fours[place + 1:]]
+
+
+def rules_of(size, many, salt=0):
+    """Rules of a size, the same ones each time: tied and not, alike everywhere, with noughts and without."""
+    dice = random.Random(f"{size} {many} {salt}")
+    rules = []
+    for _ in range(many):
+        fours = [[any_four(dice) for _ in range(size)], tied_fours(dice, size, NUMBERS), tied_fours(dice, size, NUMBERS[2:]),
+                 tied_fours(dice, size, NUMBERS, dice.choice(NUMBERS)), [any_four(dice)] * size,
+                 [dice.choice([FOUR, any_four(dice)]) for _ in range(size)]]
+        if size > 0:
+            fours.extend(changed(dice, each) for each in (fours[2], fours[4], [FOUR] * size))
+        rules.extend(tuple(each) for each in fours)
+    return rules
+
+
+# What is no rule, of whatever size.
+NO_RULES = (None, True, 3, "rule", [], list(ODD), (FOUR, FOUR, None), (FOUR, FOUR, FOUR[:3]), (FOUR, FOUR, list(FOUR)),
+            (FOUR, FOUR, (*FOUR[:3], (2, 4))), (FOUR, FOUR, (*FOUR[:3], (True, 1))), (FOUR, FOUR, (*FOUR[:3], (1, True))),
+            (FOUR, FOUR, (*FOUR[:3], [1, 1])), (FOUR, FOUR, (1, 1, 1, 1)), (FOUR, ((1, 0), *FOUR[1:]), FOUR),
+            (FOUR, ((1, -1), *FOUR[1:]), FOUR), (FOUR, FOUR, (*FOUR, FOUR[0])), (ODD,))
+
+# What is no rule of three places, no place of three, no order of three.
+BAD_RULES = (*NO_RULES, (), ODD[:2], (*ODD, FOUR))
+BAD_PLACES = (3, -1, True, False, None, "0", (0,), [0], 10 ** 59)
+BAD_ORDERS = (None, True, 0, "012", (), (0, 1), (0, 1, 1), (0, 1, 3), [0, 1, 2], (0, True, 2), (False, 1, 2), (0, 1, 2, 3),
+              (-1, 0, 1), ("0", 1, 2), ((0,), 1, 2))

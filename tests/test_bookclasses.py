@@ -11,12 +11,10 @@ from cutorclose.errors import InvalidPaper, InvalidText, NotUsable
 from cutorclose.lots import kind_at, rank_on
 from cutorclose.takes import closed_at, cut_at, left_by
 from tests import plain
-from tests.support import BOTH, GREAT_BOOKS, ODD_VALUES, RING, SMALL_BOOKS, STAR, WIDE, Case, lots_of
+from tests.support import BAD_PLACES, BOTH, GREAT_BOOKS, ODD_VALUES, RING, SMALL_BOOKS, STAR, WIDE, Case, lots_of
 from tests.test_bookchecker import FAULTS
 from tests.test_lines import FAULTS as TEXT_FAULTS
 from tests.test_lots import BAD_LOTS
-
-BAD_PLACES = (3, -1, True, False, None, "0", (0,), [0], 10 ** 59)
 
 
 class Derived(Book):

@@ -43,10 +43,9 @@ class Examples(Case):
             self.exact(eval(statement, names), eval(told, names))
 
     def test_each_file(self):
-        paths = sorted(FOLDER.glob("*.txt"))
-        for path in paths[1:]:
-            names = {}
-            self.run_file(paths[0], names)
+        # In the order of the document, as later examples use values of earlier ones.
+        paths, names = sorted(FOLDER.glob("*.txt")), {}
+        for path in paths:
             self.run_file(path, names)
         self.assertGreater(len(paths), 1)
 

@@ -8,6 +8,8 @@ import unittest
 
 from tests.support import BOTH, FOUR, ODD, RING, STAR, Case
 
+TREE = (0, (0, (0, ()), (0, ())), (0, (0, ())))
+
 # For each function its module, its name, its parameters, and rows of arguments, also wrong ones.
 FUNCTIONS = [
     ("kinds", "is_integer", "thing", [(1,), (True,), ([1, [2]],)]),
@@ -64,6 +66,21 @@ FUNCTIONS = [
     ("rulekinds", "rule_of_checks", "rule", [(ODD,), (list(ODD),)]),
     ("rulekinds", "same_rule", "size four", [(2, FOUR), (2, list(FOUR))]),
     ("rulechecker", "lets_rule", "size thing", [(3, ODD), (1, ([[1, 1]],)), ([1], [])]),
+    ("ruletexts", "rule_line", "rule", [(ODD,), (list(ODD),)]),
+    ("rulereadings", "read_rule", "text", [("rule 1 1/2 3 2",), ("rule 1 2/4 3 2",), (["rule"],)]),
+    ("reckoning", "worth_by", "book rule order", [(RING, ODD, (2, 0, 1)), (RING, list(ODD), [0]), (RING, ODD, [2, 0, 1])]),
+    ("reckoning", "steps_at", "book rule place", [(RING, ODD, 2), (RING, list(ODD), 2), (RING, ODD, [2])]),
+    ("reckoning", "order_worths", "book rule", [(RING, ODD), (RING, list(ODD))]),
+    ("choicechecker", "lets_tree", "book thing", [(RING, TREE), (RING, [0, [1]]), (RING, (0, [0, ()], ()))]),
+    ("choices", "tree_by", "book order", [(RING, (2, 0, 1)), (RING, [2, 0, 1])]),
+    ("choices", "tree_worth", "book rule tree", [(RING, ODD, TREE), (RING, list(ODD), TREE), (RING, ODD, list(TREE))]),
+    ("choices", "all_worths", "book rule", [(RING, ODD), (RING, list(ODD))]),
+    ("brackets", "pair_gap", "rule one other", [(ODD, 0, 2), (ODD, 0, [2]), (list(ODD), 0, 0)]),
+    ("brackets", "bracket", "rule one other", [(ODD, 0, 2), (ODD, [0], 2), (list(ODD), 0, 0)]),
+    ("equations", "equations_of", "book", [(BOTH,)]),
+    ("equations", "equation_gap", "rule equation", [(ODD, ("pair", 0, 2)), (ODD, ["pair", 0, 2]), (list(ODD), ("pair", 0, 2))]),
+    ("equations", "failing", "book rule", [(RING, ODD), (RING, list(ODD))]),
+    ("fitpapers", "fit_paper", "book rule", [(RING, ODD), (RING, (FOUR,) * 3), (RING, list(ODD))]),
 ]
 
 # For each class its module, its name, the parameters of its creation, and what its own body has to hold.
@@ -74,6 +91,10 @@ CLASSES = [
     ("shapeclasses", "Shape", "book",
      {"kinds": "", "pair": "place other", "ring": "lot", "star": "lot", "like": "other", "__call__": "lot"},
      "form_now parts_now knots_now bonds_now __getitem__ __contains__ __len__ __iter__ __invert__ __eq__"),
+    ("ruleclasses", "Rule", "fours",
+     {"number": "place index", "left": "lot", "checks": "", "given": "place four", "__call__": "book order"},
+     "rule_now size_now __getitem__ __add__ __contains__ __len__ __iter__ __str__ __eq__ read"),
+    ("ruleclasses", "Even", "size four", {}, "four_now"),
 ]
 
 

@@ -6,7 +6,7 @@ import unittest
 from cutorclose.errors import NotUsable
 from cutorclose.lots import bases_of, is_free, kind_at, rank_of, rank_on
 from tests import plain
-from tests.support import GREAT_BOOKS, RING, SMALL_BOOKS, STAR, WIDE, Case, lots_of
+from tests.support import BAD_PLACES, GREAT_BOOKS, RING, SMALL_BOOKS, STAR, WIDE, Case, lots_of
 
 BAD_LOTS = (None, True, 0, "", [], [0], (3,), (-1,), (1, 0), (0, 0), (True,), (0, True), ("0",), ((0,),), (None,))
 
@@ -52,7 +52,7 @@ class KindsOfPlaces(Case):
                 self.exact(kind_at(book, place), plain.kind(book, place))
 
     def test_refused(self):
-        for bad in (3, -1, True, False, None, "0", (0,), [0], 10 ** 59):
+        for bad in BAD_PLACES:
             self.refused(NotUsable, {"word": "place", "at": -1}, kind_at, RING, bad)
         self.refused(NotUsable, {"word": "place", "at": -1}, kind_at, (2, 0, ()), 0)
 

@@ -10,10 +10,8 @@ from cutorclose.lots import kind_at
 from cutorclose.partings import adds_up, part_at, parts_of
 from cutorclose.takes import kept_by, left_by
 from tests import plain
-from tests.support import BOTH, GREAT_BOOKS, RING, SMALL_BOOKS, Case, books_of, lots_of
-from tests.test_bookclasses import BAD_PLACES
+from tests.support import BAD_PLACES, BOTH, GREAT_BOOKS, RING, SMALL_BOOKS, Case, books_of, lots_of, splits
 from tests.test_lots import BAD_LOTS
-from tests.test_takes import splits
 
 MORE_BOOKS = [*SMALL_BOOKS, *books_of(5, 3), *list(books_of(3, 4))[::4], *list(books_of(7, 3))[::4]]
 

@@ -10,9 +10,8 @@ from cutorclose.leavings import pair_left, ring_left, star_left
 from cutorclose.lots import kind_at
 from cutorclose.partings import adds_up, part_at, parts_of
 from cutorclose.shapeclasses import Shape
-from tests.support import BOTH, LONE, ODD_VALUES, RING, SMALL_BOOKS, STAR, WIDE, Case, lots_of
+from tests.support import BAD_PLACES, BOTH, LONE, ODD_VALUES, RING, SMALL_BOOKS, STAR, WIDE, Case, lots_of
 from tests.test_bookchecker import FAULTS
-from tests.test_bookclasses import BAD_PLACES
 from tests.test_lots import BAD_LOTS
 
 

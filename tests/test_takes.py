@@ -7,17 +7,12 @@ from cutorclose.errors import NotUsable
 from cutorclose.lots import kind_at, rank_of, rank_on
 from cutorclose.takes import closed_at, cut_at, kept_by, left_by
 from tests import plain
-from tests.support import GREAT_BOOKS, RING, SMALL_BOOKS, Case, lots_of
+from tests.support import GREAT_BOOKS, RING, SMALL_BOOKS, Case, lots_of, splits
 from tests.test_lots import BAD_LOTS
 
 
 def refusal(word):
     return {"word": word, "at": -1}
-
-
-def splits(size):
-    """All pairs of lots without a common place."""
-    return [(one, other) for one in lots_of(size) for other in lots_of(size) if not set(one) & set(other)]
 
 
 class Takes(Case):
