@@ -1,6 +1,6 @@
 """Papers of whether a rule fits."""
 
-from cutorclose.clashes import clash_in
+from cutorclose.fitting import clash_of
 from cutorclose.holdings import first_untied, tied_parts
 from cutorclose.rulekinds import need_rule
 
@@ -10,5 +10,5 @@ def fit_paper(book, rule):
     need_rule(book, rule)
     if first_untied(book, rule) is None:
         return ("parts", tied_parts(book, rule))
-    clash = clash_in(book, rule)
+    clash = clash_of(book, rule)
     return ("all",) if clash is None else clash

@@ -2,15 +2,14 @@
 
 from cutorclose.books import checks_of
 from cutorclose.kinds import is_below
-from cutorclose.masks import lot_of, mask_of, ranks_of
+from cutorclose.masks import all_lots, mask_of, ranks_of
 from cutorclose.needs import need
 
 
 def knots_of(book):
     """The set of all knots."""
     ranks = ranks_of(book)
-    lots = [lot_of(mask) for mask in range(len(ranks))]
-    return tuple(sorted([lot for lot in lots if is_knot(ranks, lot)]))
+    return tuple(sorted([lot for lot in all_lots(book[1]) if is_knot(ranks, lot)]))
 
 
 def bonds_of(book):

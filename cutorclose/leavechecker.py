@@ -6,7 +6,7 @@ from cutorclose.leavings import RANKS
 from cutorclose.lots import is_free, lots_within, places_of, rank_of
 from cutorclose.needs import need
 from cutorclose.partings import adds_up
-from cutorclose.takes import kept_by, left_by, share
+from cutorclose.takes import kept_by, left_by, share, together
 
 WORDS = ("pair", "ring", "star", "apart")
 
@@ -42,8 +42,7 @@ def check_closed(book, lot, closed, rank):
     """InvalidPaper unless the lot is left, by the one that is closed, as this rank asks for."""
     if not is_lot(book[1], closed) or share(closed, lot):
         raise InvalidPaper("closed", -1)
-    stay = tuple(sorted([*lot, *closed]))
-    left = left_by(book, closed, kept_by(book[1], stay))
+    left = left_by(book, closed, kept_by(book[1], together(lot, closed)))
     somes = lots_within(places_of(left), rank)
     if rank_of(left) != rank or not all([is_free(left, some) for some in somes]):
         raise InvalidPaper("left", -1)

@@ -13,6 +13,11 @@ def lot_of(mask):
     return tuple([place for place in range(mask.bit_length()) if (mask >> place) & 1 == 1])
 
 
+def all_lots(size):
+    """A list of all lots of so many places, each at the index of its mask."""
+    return [lot_of(mask) for mask in range(1 << size)]
+
+
 def ranks_of(book):
     """A list of the ranks of all lots, each at the index of its mask."""
     prime, size, rows = book

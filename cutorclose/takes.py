@@ -39,6 +39,11 @@ def left_by(book, closed, cut):
     return cut_at(closed_at(book, closed), tuple([kept.index(place) for place in cut]))
 
 
+def together(one, other):
+    """The lot of the places of both lots, which have none in common."""
+    return tuple(sorted([*one, *other]))
+
+
 def share(one, other):
     """Whether both lots have a common place."""
     return any([place in other for place in one])

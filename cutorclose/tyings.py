@@ -2,8 +2,9 @@
 
 from cutorclose.kinds import is_lot, is_quotient_pair
 from cutorclose.needs import need
+from cutorclose.partings import parts_of
 from cutorclose.quotients import minus, plus, times
-from cutorclose.rulekinds import need_any_rule
+from cutorclose.rulekinds import need_any_rule, need_rule
 from cutorclose.solving import values_in
 
 
@@ -25,6 +26,12 @@ def tie_of(rule, lot):
     if ("none",) in (u, v):
         return None
     return (only_value(u), only_value(v))
+
+
+def ties_of(book, rule):
+    """The tuple of what tie_of tells for each part of the book."""
+    need_rule(book, rule)
+    return tuple([tie_of(rule, part) for part in parts_of(book)])
 
 
 def tied_four(pair, tie):

@@ -5,9 +5,9 @@ from fractions import Fraction
 
 from cutorclose.errors import NotUsable
 from cutorclose.fitpapers import fit_paper
-from cutorclose.kinds import is_lot, is_order, is_quotient_pair
 from tests import plain
-from tests.support import (BAD_RULES, BOTH, FOUR, GREAT_BOOKS, LONE, ODD, RING, SMALL_BOOKS, STAR, WIDE, Case, four_by, quotients, rules_of)
+from tests.papers import PaperCase, has_parts_paper
+from tests.support import BAD_RULES, BOTH, FOUR, GREAT_BOOKS, LONE, ODD, RING, SMALL_BOOKS, STAR, WIDE, four_by, quotients, rules_of
 from tests.test_leavings import EIGHT
 
 # Alike at a pair only: pair gaps are nought, brackets are not.
@@ -18,38 +18,7 @@ def refusal(word):
     return {"word": word, "at": -1}
 
 
-def has_parts_paper(book, rule):
-    """Whether each part has a tie, one place, or two with a pair gap of nought."""
-    for part in plain.parts(book):
-        if len(part) > 1 and plain.tie(rule, part) is None and (len(part) > 2 or plain.pair_gap(rule, *part) != 0):
-            return False
-    return True
-
-
-class Papers(Case):
-    def check_parts(self, book, rule, rows):
-        self.assertIs(type(rows), tuple)
-        size, whole = book[1], plain.rank(book, range(book[1]))
-        for lot, tie in rows:
-            self.assertTrue(is_lot(size, lot) and lot != ())
-            self.assertEqual(plain.rank(book, lot) + plain.rank(book, plain.others(size, lot)), whole)
-            if tie is None:
-                self.assertTrue(len(lot) == 1 or (len(lot) == 2 and plain.pair_gap(rule, *lot) == 0))
-            else:
-                self.assertTrue(is_quotient_pair(tie))
-                self.assertTrue(plain.tie_holds(rule, Fraction(*tie[0]), Fraction(*tie[1]), lot))
-        self.assertEqual(sorted(place for lot, _ in rows for place in lot), list(range(size)))
-
-    def check_clash(self, book, rule, paper):
-        word, closed, cut, first, second = paper
-        self.assertEqual(word, "clash")
-        self.assertTrue(is_lot(book[1], closed) and is_lot(book[1], cut) and not set(closed) & set(cut))
-        many = book[1] - len(closed) - len(cut)
-        self.assertIn(many, (2, 3))
-        self.assertTrue(is_order(many, first) and is_order(many, second))
-        left, rest = plain.left(book, closed, cut), plain.without(rule, closed + cut)
-        self.assertNotEqual(plain.worth_by(left, rest, first), plain.worth_by(left, rest, second))
-
+class Papers(PaperCase):
     def check_paper(self, book, rule):
         """Check the paper of a rule, and return its word."""
         paper = fit_paper(book, rule)

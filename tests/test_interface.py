@@ -8,6 +8,9 @@ import unittest
 
 from tests.support import BOTH, FOUR, ODD, RING, STAR, Case
 
+TIE = ((2, 1), (1, 1))
+ONES = (((1, 1), (1, 1)),) * 3
+PARTS = ("parts", (((0, 1, 2), TIE),))
 TREE = (0, (0, (0, ()), (0, ())), (0, (0, ())))
 
 # For each function its module, its name, its parameters, and rows of arguments, also wrong ones.
@@ -81,6 +84,27 @@ FUNCTIONS = [
     ("equations", "equation_gap", "rule equation", [(ODD, ("pair", 0, 2)), (ODD, ["pair", 0, 2]), (list(ODD), ("pair", 0, 2))]),
     ("equations", "failing", "book rule", [(RING, ODD), (RING, list(ODD))]),
     ("fitpapers", "fit_paper", "book rule", [(RING, ODD), (RING, (FOUR,) * 3), (RING, list(ODD))]),
+    ("fitting", "fits", "book rule", [(RING, ODD), (RING, list(ODD))]),
+    ("fitting", "clash_of", "book rule", [(RING, ODD), (RING, (FOUR,) * 3), (RING, list(ODD))]),
+    ("fitting", "worth_of", "book rule", [(RING, ODD), (RING, (FOUR,) * 3), (RING, list(ODD))]),
+    ("fitchecker", "lets_fit", "book rule thing", [(RING, (FOUR,) * 3, PARTS), (RING, ODD, PARTS), (RING, ODD, ["all"]),
+                                                   (RING, ODD, ("clash", (1,), (), [0, 1], [1, 0])), (RING, list(ODD), [])]),
+    ("mendings", "values_for", "book rule place index", [(RING, ODD, 2, 2), (RING, ODD, [2], [2]), (RING, list(ODD), 2, 2)]),
+    ("mendings", "mended", "book rule place index", [(RING, ODD, 2, 2), (RING, ODD, 2, [2]), (RING, list(ODD), 2, 2)]),
+    ("mendings", "mending_spots", "book rule", [(RING, ODD), (RING, list(ODD))]),
+    ("lotsums", "tied_rule", "pairs tie", [(ONES, TIE), (list(ONES), TIE), (ONES, list(TIE))]),
+    ("lotsums", "lot_term", "book pairs tie lot", [(RING, ONES, TIE, (0, 2)), (RING, list(ONES), list(TIE), [0]), (RING, ONES, TIE, [0])]),
+    ("lotsums", "lot_sum", "book pairs tie", [(RING, ONES, TIE), (RING, list(ONES), TIE), (RING, ONES, list(TIE))]),
+    ("ranktables", "rank_table", "book", [(BOTH,)]),
+    ("ranktables", "table_sum", "book pair tie", [(RING, ((1, 2), (1, 3)), TIE), (RING, [(1, 2), (1, 3)], TIE), (RING, TIE, list(TIE))]),
+    ("ranktables", "checks_table", "table", [(((1, 0), (0, 1)),), (([1, 0], [0, 1]),), ([(1,)],)]),
+    ("tyings", "holds_at", "rule tie lot", [(ODD, TIE, (0, 1)), (list(ODD), TIE, (0, 1)), (ODD, list(TIE), [0]), (ODD, TIE, [0, 1])]),
+    ("tyings", "tie_of", "rule lot", [(ODD, (0, 1)), (list(ODD), (0, 1)), (ODD, [0, 1])]),
+    ("tyings", "ties_of", "book rule", [(RING, ODD), (RING, list(ODD))]),
+    ("partsums", "worth_by_parts", "book rule", [(RING, ODD), (RING, (FOUR,) * 3), (RING, list(ODD))]),
+    ("sumpapers", "sum_paper", "book rule", [(RING, ODD), (RING, (FOUR,) * 3), (RING, list(ODD))]),
+    ("sumchecker", "lets_sum", "book rule thing", [(RING, (FOUR,) * 3, ("sums", (((0, 1, 2), TIE, (14, 1)),))), (RING, ODD, ["sums", [[]]]),
+                                                   (RING, ODD, ("sums", ([(0, 1, 2), TIE, (14, 1)],))), (RING, list(ODD), [])]),
 ]
 
 # For each class its module, its name, the parameters of its creation, and what its own body has to hold.
@@ -95,6 +119,8 @@ CLASSES = [
      {"number": "place index", "left": "lot", "checks": "", "given": "place four", "__call__": "book order"},
      "rule_now size_now __getitem__ __add__ __contains__ __len__ __iter__ __str__ __eq__ read"),
     ("ruleclasses", "Even", "size four", {}, "four_now"),
+    ("fitclasses", "Fit", "book rule", {"given": "place four", "left": "closed cut", "__call__": ""},
+     "form_now rule_now fits_now failing_now __getitem__ __contains__ __len__ __iter__ __invert__ __eq__"),
 ]
 
 
