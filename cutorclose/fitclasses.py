@@ -6,7 +6,7 @@ from cutorclose.equations import equations_of, failing, gap_in, is_equation
 from cutorclose.fitting import worth_of
 from cutorclose.kinds import is_below
 from cutorclose.needs import need
-from cutorclose.rulekinds import is_four, need_rule, rule_left, rule_of_checks, rule_with
+from cutorclose.rulekinds import is_four, rule_left, rule_of_checks, rule_with
 from cutorclose.takes import left_by, together
 
 
@@ -15,10 +15,10 @@ class Fit:
 
     def __init__(self, book, rule):
         lets_book(book)
-        need_rule(book, rule)
+        # What is no rule of the book is refused here.
+        self._failing = failing(book, rule)
         self._form = book
         self._rule = rule
-        self._failing = failing(book, rule)
 
     @property
     def form_now(self):

@@ -1,6 +1,6 @@
 """Sums over all lots, by a tie."""
 
-from cutorclose.kinds import is_lot, is_quotient_pair, is_tuple_of
+from cutorclose.kinds import is_quotient_pair, is_tuple_of
 from cutorclose.lots import rank_of, rank_on
 from cutorclose.masks import all_lots, ranks_of
 from cutorclose.needs import need
@@ -18,8 +18,8 @@ def tied_rule(pairs, tie):
 def lot_term(book, pairs, tie, lot):
     """What the lot gives to the sum."""
     need_pairs_and_tie(book, pairs, tie)
-    need(is_lot(book[1], lot), "lot")
-    return term_by(rank_of(book), pairs, tie, lot, rank_on(book, lot))
+    rank = rank_on(book, lot)
+    return term_by(rank_of(book), pairs, tie, lot, rank)
 
 
 def lot_sum(book, pairs, tie):

@@ -77,6 +77,9 @@ def books_of(prime, size):
 SIZES = ((2, 4), (3, 3), (5, 2), (7, 2))
 SMALL_BOOKS = [book for prime, most in SIZES for size in range(most + 1) for book in books_of(prime, size)]
 
+# With some books of three and four places of the greater primes, for what hangs on rules.
+RULE_BOOKS = [*SMALL_BOOKS, *list(books_of(3, 4))[5::12], *list(books_of(5, 3))[2::4], *list(books_of(7, 3))[4::9]]
+
 # Books of up to eight places, of each prime.
 GREAT_BOOKS = [
     BOTH, WIDE,

@@ -8,7 +8,7 @@ from cutorclose.choices import all_worths, tree_by, tree_worth
 from cutorclose.errors import InvalidPaper, NotUsable
 from cutorclose.reckoning import order_worths, worth_by
 from tests import plain
-from tests.support import (BAD_ORDERS, BAD_RULES, BOTH, FOUR, GREAT_BOOKS, LONE, ODD, ODD_VALUES, RING, SMALL_BOOKS, STAR, WIDE, Case,
+from tests.support import (BAD_ORDERS, BAD_RULES, BOTH, FOUR, GREAT_BOOKS, LONE, ODD, ODD_VALUES, RING, RULE_BOOKS, STAR, WIDE, Case,
                            quotient, rules_of)
 from tests.test_reckoning import ALL, PRIMES, orders
 
@@ -20,22 +20,26 @@ RING_TREE = (0, (0, (0, ()), (0, ())), (0, (0, ())))
 # What is no tree of a pair, and how the fault is told.
 PAIR_FAULTS = (
     # No tuple, or (), where there are places.
-    (None, "shape", ()), (True, "shape", ()), (0, "shape", ()), ("", "shape", ()), ("0", "shape", ()), ((), "shape", ()), ([], "shape", ()),
+    (None, "shape", ()), (True, "shape", ()), (0, "shape", ()), ("", "shape", ()), ("0", "shape", ()), ((), "shape", ()),
+    ([], "shape", ()),
     ([0, (0, ()), (0, ())], "shape", ()),
     # No place: ahead of the number of what stands there.
-    ((2, (0, ()), (0, ())), "place", ()), ((-1, (0, ()), (0, ())), "place", ()), ((True, (0, ()), (0, ())), "place", ()), ((None,), "place", ()),
+    ((2, (0, ()), (0, ())), "place", ()), ((-1, (0, ()), (0, ())), "place", ()), ((True, (0, ()), (0, ())), "place", ()),
+    ((None,), "place", ()),
     (((),), "place", ()), ((2,), "place", ()), ((2, None, None, None), "place", ()), ((False, (0, ()), (0, ())), "place", ()),
     ((10 ** 59, (), ()), "place", ()), (([0], (0, ()), (0, ())), "place", ()), (("0", (0, ()), (0, ())), "place", ()),
     # Not three for an ordinary place.
     ((0,), "shape", ()), ((0, (0, ())), "shape", ()), ((0, (0, ()), (0, ()), (0, ())), "shape", ()), ((1, None), "shape", ()),
     # The tree of the book closed there, with all that is in it, ahead of the other one.
-    ((0, (), (0, ())), "shape", (0,)), ((0, None, None), "shape", (0,)), ((0, [0, ()], (0, ())), "shape", (0,)), ((0, (1, ()), (0, ())), "place", (0,)),
+    ((0, (), (0, ())), "shape", (0,)), ((0, None, None), "shape", (0,)), ((0, [0, ()], (0, ())), "shape", (0,)),
+    ((0, (1, ()), (0, ())), "place", (0,)),
     ((1, (True, ()), None), "place", (0,)), ((0, (0,), (0, ())), "shape", (0,)), ((0, (0, (), ()), (0, ())), "shape", (0,)),
     ((0, (0, None), ()), "shape", (0, 0)), ((0, (0, (0, ())), ()), "shape", (0, 0)), ((0, (0, []), None), "shape", (0, 0)),
     ((0, (0, 0), (1, ())), "shape", (0, 0)), ((0, (0, False), (1, ())), "shape", (0, 0)), ((0, (0, ""), (0, ())), "shape", (0, 0)),
     # The one of the book cut there.
     ((0, (0, ()), ()), "shape", (1,)), ((0, (0, ()), None), "shape", (1,)), ((1, (0, ()), (1, ())), "place", (1,)),
-    ((1, (0, ()), (0, (), ())), "shape", (1,)), ((0, (0, ()), (0, (0, ()))), "shape", (1, 0)), ((0, (0, ()), (0, None)), "shape", (1, 0)),
+    ((1, (0, ()), (0, (), ())), "shape", (1,)), ((0, (0, ()), (0, (0, ()))), "shape", (1, 0)),
+    ((0, (0, ()), (0, None)), "shape", (1, 0)),
     ((0, (0, ()), [0, ()]), "shape", (1,)),
 )
 
@@ -44,17 +48,25 @@ FAULTS = (
     ((2, 0, ()), None, "shape", ()), ((2, 0, ()), (0,), "shape", ()), ((2, 0, ()), [], "shape", ()), ((2, 0, ()), 0, "shape", ()),
     ((2, 0, ()), ((),), "shape", ()), ((2, 0, ()), False, "shape", ()), ((2, 0, ()), "", "shape", ()),
     # Two for an idle place, and for one that is alone.
-    ((2, 1, ()), (0,), "shape", ()), ((2, 1, ()), (0, (), ()), "shape", ()), ((2, 1, ()), (1, ()), "place", ()), ((2, 1, ()), (0, 0), "shape", (0,)),
-    ((2, 1, ((1,),)), (0, (), ()), "shape", ()), ((2, 1, ((1,),)), (0,), "shape", ()), ((2, 1, ((1,),)), (0, (0, ())), "shape", (0,)),
-    (RING, (0, (0, (0, ()), ()), (0, (0, ()))), "shape", (0, 1)), (RING, (0, (0, (0, ()), (0, ())), (0, (0, ()), ())), "shape", (1,)),
-    (RING, (0, (0, (0, ()), (1, ())), (0, (0, ()))), "place", (0, 1)), (RING, (0, (0, (0, ()), (0, ())), (0, (1, ()))), "place", (1, 0)),
-    (RING, (0, (0, (0, ()), (0, 7)), (0, (0, ()))), "shape", (0, 1, 0)), (RING, (0, (0, (0, ()), (0, ())), (0, (0, ((),)))), "shape", (1, 0, 0)),
+    ((2, 1, ()), (0,), "shape", ()), ((2, 1, ()), (0, (), ()), "shape", ()), ((2, 1, ()), (1, ()), "place", ()),
+    ((2, 1, ()), (0, 0), "shape", (0,)),
+    ((2, 1, ((1,),)), (0, (), ()), "shape", ()), ((2, 1, ((1,),)), (0,), "shape", ()),
+    ((2, 1, ((1,),)), (0, (0, ())), "shape", (0,)),
+    (RING, (0, (0, (0, ()), ()), (0, (0, ()))), "shape", (0, 1)),
+    (RING, (0, (0, (0, ()), (0, ())), (0, (0, ()), ())), "shape", (1,)),
+    (RING, (0, (0, (0, ()), (1, ())), (0, (0, ()))), "place", (0, 1)),
+    (RING, (0, (0, (0, ()), (0, ())), (0, (1, ()))), "place", (1, 0)),
+    (RING, (0, (0, (0, ()), (0, 7)), (0, (0, ()))), "shape", (0, 1, 0)),
+    (RING, (0, (0, (0, ()), (0, ())), (0, (0, ((),)))), "shape", (1, 0, 0)),
     (RING, (2, (2, (0, ()), (0, ())), (0, (0, ()))), "place", (0,)), (RING, (3, (0, (0, ()), (0, ())), (0, (0, ()))), "place", ()),
-    (STAR, (0, (0, (0, ())), (0, (0, ()))), "shape", (1,)), (STAR, (0, (0, (0, ()), (0, ())), (0, (0, ()), (0, ()))), "shape", (0,)),
+    (STAR, (0, (0, (0, ())), (0, (0, ()))), "shape", (1,)),
+    (STAR, (0, (0, (0, ()), (0, ())), (0, (0, ()), (0, ()))), "shape", (0,)),
     (STAR, (1, (1, (0, ())), (1, (0, ()), (True, ()))), "place", (1, 1)),
     # A fault deep in the first tree is ahead of one at the root of the second one, and behind one at its own root.
-    (STAR, (0, (0, (0, None)), None), "shape", (0, 0, 0)), (STAR, (0, (0, None), (9, None)), "shape", (0, 0)), (STAR, (3, (0, None), None), "place", ()),
-    (WIDE, (0, None, None), "shape", (0,)), (LONE, (0, (0, (0, ()), (0, ()))), "shape", (0, 0, 0)), (LONE, (0, (2, (2, ()))), "place", (0, 0)),
+    (STAR, (0, (0, (0, None)), None), "shape", (0, 0, 0)), (STAR, (0, (0, None), (9, None)), "shape", (0, 0)),
+    (STAR, (3, (0, None), None), "place", ()),
+    (WIDE, (0, None, None), "shape", (0,)), (LONE, (0, (0, (0, ()), (0, ()))), "shape", (0, 0, 0)),
+    (LONE, (0, (2, (2, ()))), "place", (0, 0)),
 )
 
 
@@ -94,7 +106,7 @@ class Trees(Case):
         self.exact(tree_by((5, 3, ()), (2, 1, 0)), (2, (1, (0, ()))))
 
     def test_by_all_orders(self):
-        for book in SMALL_BOOKS:
+        for book in RULE_BOOKS:
             trees = trees_of(book) if book[1] < 4 else []
             rule = rules_of(book[1], 1, "tree")[0]
             for order in orders(book[1])[::3]:
@@ -113,7 +125,7 @@ class Trees(Case):
         self.exact(lets_tree(book, tree), ends(tree))
 
     def test_all_trees(self):
-        for book in SMALL_BOOKS:
+        for book in RULE_BOOKS:
             if book[1] < 4:
                 rule = rules_of(book[1], 1, "all")[0]
                 for tree in trees_of(book):
@@ -131,7 +143,7 @@ class Trees(Case):
 
 class AllTrees(Case):
     def test_all_different_worths(self):
-        for book in SMALL_BOOKS:
+        for book in RULE_BOOKS:
             for rule in rules_of(book[1], 1, "worths"):
                 self.exact(all_worths(book, rule), tuple(map(quotient, sorted(plain.tree_worths(book, rule)))))
 
@@ -179,7 +191,7 @@ class Checker(Case):
         self.refused(InvalidPaper, {"word": "shape", "at": (0, 0, 0)}, lets_tree, ALL, deep)
 
     def test_what_is_no_tree_of_one_book_is_one_of_another(self):
-        books = [book for book in SMALL_BOOKS if book[1] == 3][::3]
+        books = [book for book in RULE_BOOKS if book[1] == 3][::3]
         for book, other in itertools.product(books, repeat=2):
             own = trees_of(book)
             for tree in trees_of(other):
@@ -201,6 +213,9 @@ class Refused(Case):
         self.refused(NotUsable, refusal("order"), tree_by, (2, 0, ()), None)
         self.refused(NotUsable, refusal("order"), tree_by, (2, 0, ()), [])
         self.refused(NotUsable, refusal("tree"), tree_worth, (2, 0, ()), (), [])
+        self.refused(NotUsable, refusal("rule"), tree_worth, (2, 0, ()), [], ())
+        self.refused(NotUsable, refusal("rule"), all_worths, (2, 0, ()), [])
+        self.refused(NotUsable, refusal("rule"), all_worths, (2, 0, ()), (FOUR,))
         self.refused(NotUsable, refusal("tree"), tree_worth, BOTH, (FOUR,) * 6, RING_TREE)
         for book in GREAT_BOOKS:
             self.refused(NotUsable, refusal("tree"), tree_worth, book, (FOUR,) * book[1], ())

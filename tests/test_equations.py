@@ -14,7 +14,7 @@ from cutorclose.quotients import minus, times
 from cutorclose.rulekinds import rule_of_checks
 from cutorclose.tyings import tie_of
 from tests import plain
-from tests.support import (BAD_PLACES, BAD_RULES, BOTH, FOUR, GREAT, GREAT_BOOKS, NO_RULES, ODD, ODD_VALUES, RING, SMALL_BOOKS, STAR, WIDE,
+from tests.support import (BAD_PLACES, BAD_RULES, BOTH, FOUR, GREAT, GREAT_BOOKS, NO_RULES, ODD, ODD_VALUES, RING, RULE_BOOKS, STAR, WIDE,
                            Case, quotient, rules_of)
 from tests.test_leavings import EIGHT
 
@@ -23,13 +23,17 @@ NOUGHT = (0, 1)
 
 # What is no equation of three places.
 NO_EQUATIONS = (
-    *ODD_VALUES, ("pair",), ("pair", 0), ("pair", 0, 1, 2), ("ring", 0, 1), ("star", 0, 1), ("ring", 0, 1, 2, 0), ("star", 0), ("ring",),
+    *ODD_VALUES, (), ("pair",), ("pair", 0), ("pair", 0, 1, 2), ("ring", 0, 1), ("star", 0, 1), ("ring", 0, 1, 2, 0), ("star", 0),
+    ("ring",),
     ("Pair", 0, 1), ("pairs", 0, 1), (None, 0, 1), (True, 0, 1), (("pair",), 0, 1), (["pair"], 0, 1), (0, 1), (0, 1, 2), ("", 0, 1),
     # Places in their order, different, and integers.
-    ("pair", 1, 0), ("pair", 0, 0), ("pair", 0, 3), ("pair", -1, 0), ("pair", 0, True), ("pair", False, 1), ("pair", None, 1), ("pair", 0, "1"),
+    ("pair", 1, 0), ("pair", 0, 0), ("pair", 0, 3), ("pair", -1, 0), ("pair", 0, True), ("pair", False, 1), ("pair", None, 1),
+    ("pair", 0, "1"),
     ("pair", (0,), 1), ("pair", [0], [1]), ("pair", 0, GREAT), ["pair", 0, 1], ("pair", (0, 1)),
-    ("ring", 1, 0, 2), ("ring", 0, 1, 1), ("ring", 0, 1, 0), ("ring", 0, 0, 1), ("ring", 0, 1, 3), ("ring", 0, 1, True), ("ring", 0, 2, True),
+    ("ring", 1, 0, 2), ("ring", 0, 1, 1), ("ring", 0, 1, 0), ("ring", 0, 0, 1), ("ring", 0, 1, 3), ("ring", 0, 1, True),
+    ("ring", 0, 2, True),
     ("ring", 0, 1, None), ("ring", 0, 1, [2]), ("star", 2, 1, 0), ("star", 0, 2, 2), ("star", 1, 2, False), ("star", 0, 1, -1),
+    ("rings", 0, 1, 2), ("Ring", 0, 1, 2), (None, 0, 1, 2), (["star"], 0, 1, 2), (0, 1, 2, 3), (True, 0, 1, 2), ("", 0, 1, 2),
     ["ring", 0, 1, 2], ("star", (0, 1, 2)), ("pair", 0, 1, None), ("ring", 0, 2, 0), ("star", 1, 2, 1),
 )
 
@@ -86,7 +90,7 @@ class GapsAndBrackets(Case):
 
 class Equations(Case):
     def test_by_what_can_be_left(self):
-        for book in (*SMALL_BOOKS, BOTH):
+        for book in (*RULE_BOOKS, BOTH):
             self.exact(equations_of(book), wanted_equations(book))
 
     def test_greater_books(self):
@@ -119,7 +123,7 @@ class Equations(Case):
 
     def test_failing(self):
         met = 0
-        for book in (*SMALL_BOOKS, BOTH):
+        for book in (*RULE_BOOKS, BOTH):
             for rule in rules_of(book[1], 1, "failing"):
                 wanted = tuple(each for each in wanted_equations(book) if wanted_gap(rule, each) != 0)
                 self.exact(failing(book, rule), wanted)
@@ -144,7 +148,7 @@ class Equations(Case):
 
 class WhatFollows(Case):
     def pairs(self):
-        for book in SMALL_BOOKS:
+        for book in RULE_BOOKS:
             for rule in rules_of(book[1], 1, "follows"):
                 for e, f in itertools.permutations(range(book[1]), 2):
                     yield rule, e, f
@@ -179,12 +183,12 @@ class WhatFollows(Case):
             other = rule_of_checks(rule)
             self.exact(pair_gap(other, e, f), pair_gap(rule, e, f))
             self.exact(bracket(other, e, f), minus(pair_gap(rule, e, f), bracket(rule, e, f)))
-        for book in (*SMALL_BOOKS, *GREAT_BOOKS):
+        for book in (*RULE_BOOKS, *GREAT_BOOKS):
             exchanged = sorted((words[each[0]], *each[1:]) for each in equations_of(book))
             self.exact(equations_of(checks_of(book)), tuple(exchanged))
 
     def test_a_part_by_itself_is_in_no_equation(self):
-        for book in (*SMALL_BOOKS, *GREAT_BOOKS, *EIGHT):
+        for book in (*RULE_BOOKS, *GREAT_BOOKS, *EIGHT):
             places = {place for each in equations_of(book) for place in each[1:]}
             self.assertEqual(places, {place for part in parts_of(book) if len(part) > 1 for place in part})
 

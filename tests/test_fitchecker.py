@@ -9,7 +9,7 @@ from cutorclose.fitchecker import lets_fit
 from cutorclose.fitpapers import fit_paper
 from tests import plain
 from tests.papers import PaperCase
-from tests.support import (BAD_RULES, BOTH, FOUR, GREAT_BOOKS, LONE, ODD, ODD_VALUES, RING, SMALL_BOOKS, STAR, WIDE, rules_of,
+from tests.support import (BAD_RULES, BOTH, FOUR, GREAT_BOOKS, LONE, ODD, ODD_VALUES, RING, RULE_BOOKS, STAR, WIDE, rules_of,
                            splits)
 from tests.test_fitting import FLAT, NOUGHTS
 
@@ -25,8 +25,10 @@ FAULTS = (
     # Neither form, ahead of all else.
     *[(("shape", -1), RING, SAME, thing) for thing in ODD_VALUES],
     *[(("shape", -1), RING, SAME, thing) for thing in (
-        ("all", ()), ("all", None), ["all"], "all", ("All",), (("all",),), ("alls",), ("parts",), ("parts", None), ("parts", []), ("parts", "x"),
-        ("parts", (), ()), ["parts", ()], ("part", ()), (True, ()), (("parts",), ()), (["parts"], ()), ("clash",), ("clash", (), ()),
+        (), ("all", ()), ("all", None), ["all"], "all", ("All",), (("all",),), ("alls",), ("parts",), ("parts", None),
+        ("parts", []), ("parts", "x"),
+        ("parts", (), ()), ["parts", ()], ("part", ()), (True, ()), (("parts",), ()), (["parts"], ()), ("clash",),
+        ("clash", (), ()),
         ("clash", (1,), (), (0, 1)), ("clash", (1,), (), (0, 1), (1, 0), ()), ["clash", (1,), (), (0, 1), (1, 0)],
         ("clashes", (1,), (), (0, 1), (1, 0)), (None, (1,), (), (0, 1), (1, 0)), (["clash"], (1,), (), (0, 1), (1, 0)))],
     # All equations, the first one that fails.
@@ -34,7 +36,8 @@ FAULTS = (
     (("equation", ("pair", 3, 5)), BOTH, SAME + ODD, ("all",)),
     (("equation", ("ring", 0, 1, 2)), RING, tuple(((k, 1), (2, 1), (3 * k + 2, 1), (6 + k, 1)) for k in range(3)), ("all",)),
     # A row that is no pair.
-    *[(("row", 0), RING, SAME, ("parts", (row,))) for row in (None, 0, (), ((0, 1, 2),), [(0, 1, 2), TIE], ((0, 1, 2), TIE, None), "xy", True)],
+    *[(("row", 0), RING, SAME, ("parts", (row,))) for row in
+      (None, 0, (), ((0, 1, 2),), [(0, 1, 2), TIE], ((0, 1, 2), TIE, None), "xy", True)],
     (("row", 1), BOTH, MANY, ("parts", (((0, 1, 2), TIE), (3, 4, 5)))),
     # A lot that is none, or has no places.
     *[(("lot", 0), RING, SAME, ("parts", ((lot, TIE),))) for lot in
@@ -42,11 +45,13 @@ FAULTS = (
     (("lot", 0), RING, SAME, ("parts", (((), None),))), (("lot", 1), BOTH, MANY, ("parts", (((0, 1, 2), TIE), ((), TIE)))),
     (("lot", 0), RING, SAME, ("parts", ((None, 7), None))),
     # A place of an earlier one, ahead of adding up.
-    (("twice", 1), BOTH, MANY, ("parts", (((0, 1, 2), TIE), ((0, 1, 2), TIE)))), (("twice", 1), BOTH, MANY, ("parts", (((3, 4, 5), TIE), ((3,), 7)))),
+    (("twice", 1), BOTH, MANY, ("parts", (((0, 1, 2), TIE), ((0, 1, 2), TIE)))),
+    (("twice", 1), BOTH, MANY, ("parts", (((3, 4, 5), TIE), ((3,), 7)))),
     (("twice", 2), LONE, MANY[:4], ("parts", (((0,), None), ((1, 2), TIE), ((2, 3), TIE)))),
     (("twice", 1), BOTH, MANY, ("parts", (((0, 1, 2), TIE), ((0, 1, 2, 3, 4, 5), TIE)))),
     # What does not add up, ahead of the tie.
-    (("adds", 0), RING, SAME, ("parts", (((0, 1), TIE), ((2,), TIE)))), (("adds", 0), RING, SAME, ("parts", (((0,), None), ((1,), None), ((2,), None)))),
+    (("adds", 0), RING, SAME, ("parts", (((0, 1), TIE), ((2,), TIE)))),
+    (("adds", 0), RING, SAME, ("parts", (((0,), None), ((1,), None), ((2,), None)))),
     (("adds", 1), BOTH, MANY, ("parts", (((0, 1, 2), TIE), ((3, 4), 7)))), (("adds", 0), BOTH, MANY, ("parts", (((2, 3), None),))),
     (("adds", 0), WIDE, MANY[:4], ("parts", (((0, 1), TIE), ((2, 3), TIE)))),
     # What is no tie.
@@ -55,13 +60,17 @@ FAULTS = (
        ((2, 1), (True, 1)), ((2, 1), [1, 1]), ((2, 1), "any"), ((2, 0), (1, 1)), ((2, 1), (1, -1)))],
     (("tie", 0), LONE, MANY[:4], ("parts", (((0,), "any"),))),
     # A tie that does not hold.
-    (("holds", 0), RING, SAME, ("parts", (((0, 1, 2), OTHER_TIE),))), (("holds", 0), RING, SAME, ("parts", (((0, 1, 2), ((2, 1), (0, 1))),))),
-    (("holds", 0), RING, ODD, ("parts", (((0, 1, 2), TIE),))), (("holds", 1), BOTH, SAME + ODD, ("parts", (((0, 1, 2), TIE), ((3, 4, 5), TIE)))),
-    (("holds", 0), BOTH, SAME + ODD, ("parts", (((0, 1, 2, 3, 4, 5), TIE),))), (("holds", 0), LONE, MANY[:4], ("parts", (((0,), OTHER_TIE),))),
+    (("holds", 0), RING, SAME, ("parts", (((0, 1, 2), OTHER_TIE),))),
+    (("holds", 0), RING, SAME, ("parts", (((0, 1, 2), ((2, 1), (0, 1))),))),
+    (("holds", 0), RING, ODD, ("parts", (((0, 1, 2), TIE),))),
+    (("holds", 1), BOTH, SAME + ODD, ("parts", (((0, 1, 2), TIE), ((3, 4, 5), TIE)))),
+    (("holds", 0), BOTH, SAME + ODD, ("parts", (((0, 1, 2, 3, 4, 5), TIE),))),
+    (("holds", 0), LONE, MANY[:4], ("parts", (((0,), OTHER_TIE),))),
     # None, where there are too many places or the pair gap is not nought.
     (("gap", 0), RING, SAME, ("parts", (((0, 1, 2), None),))), (("gap", 0), PAIR, ODD[1:], ("parts", (((0, 1), None),))),
     (("gap", 1), LONE, (FOUR, *ODD[1:], FOUR), ("parts", (((0,), None), ((1, 2), None)))),
-    (("gap", 0), LONE, (FOUR, FOUR, FOUR, ODD[2]), ("parts", (((0, 3), None),))), (("gap", 0), BOTH, MANY, ("parts", (((0, 1, 2, 3, 4, 5), None),))),
+    (("gap", 0), LONE, (FOUR, FOUR, FOUR, ODD[2]), ("parts", (((0, 3), None),))),
+    (("gap", 0), BOTH, MANY, ("parts", (((0, 1, 2, 3, 4, 5), None),))),
     # All of one element ahead of the next one, and these ahead of a place in no lot.
     (("gap", 0), BOTH, MANY, ("parts", (((0, 1, 2), None), None))), (("row", 1), BOTH, MANY, ("parts", (((0, 1, 2), TIE), None))),
     (("places", -1), RING, SAME, ("parts", ())), (("places", -1), BOTH, MANY, ("parts", (((0, 1, 2), TIE),))),
@@ -70,15 +79,20 @@ FAULTS = (
     *[(("closed", -1), RING, ODD, ("clash", lot, None, None, None)) for lot in (None, [1], (3,), (1, 0), (True,), 1, "1", (-1,))],
     *[(("cut", -1), RING, ODD, ("clash", (1,), lot, None, None)) for lot in (None, [], (1,), (3,), (0, 1), (True,), (0, 0), 0)],
     (("left", -1), RING, ODD, ("clash", (1,), (0,), None, None)), (("left", -1), RING, ODD, ("clash", (0, 1, 2), (), (), ())),
-    (("left", -1), WIDE, (FOUR, *ODD), ("clash", (), (), (0, 1, 2, 3), (3, 2, 1, 0))), (("left", -1), BOTH, SAME + ODD, ("clash", (0,), (1,), None, None)),
+    (("left", -1), WIDE, (FOUR, *ODD), ("clash", (), (), (0, 1, 2, 3), (3, 2, 1, 0))),
+    (("left", -1), BOTH, SAME + ODD, ("clash", (0,), (1,), None, None)),
     # Its orders, of the places that are left, counted anew.
     *[(("first", -1), RING, ODD, ("clash", (1,), (), order, None)) for order in
       (None, (), (0,), (0, 2), (0, 1, 2), [0, 1], (0, 0), (False, 1), "01")],
-    *[(("second", -1), RING, ODD, ("clash", (1,), (), (0, 1), order)) for order in (None, (), (1,), (2, 0), (2, 1, 0), [1, 0], (1, 1), (True, 0))],
-    (("first", -1), RING, ODD, ("clash", (), (), (0, 1), (1, 0))), (("second", -1), RING, ODD, ("clash", (), (), (0, 1, 2), (1, 0))),
+    *[(("second", -1), RING, ODD, ("clash", (1,), (), (0, 1), order)) for order in
+      (None, (), (1,), (2, 0), (2, 1, 0), [1, 0], (1, 1), (True, 0))],
+    (("first", -1), RING, ODD, ("clash", (), (), (0, 1), (1, 0))),
+    (("second", -1), RING, ODD, ("clash", (), (), (0, 1, 2), (1, 0))),
     # Both worths are one.
-    (("worths", -1), RING, ODD, ("clash", (1,), (), (0, 1), (0, 1))), (("worths", -1), RING, ODD, ("clash", (2,), (), (0, 1), (1, 0))),
-    (("worths", -1), RING, ODD, ("clash", (), (1,), (0, 1), (1, 0))), (("worths", -1), RING, SAME, ("clash", (), (), (0, 1, 2), (2, 1, 0))),
+    (("worths", -1), RING, ODD, ("clash", (1,), (), (0, 1), (0, 1))),
+    (("worths", -1), RING, ODD, ("clash", (2,), (), (0, 1), (1, 0))),
+    (("worths", -1), RING, ODD, ("clash", (), (1,), (0, 1), (1, 0))),
+    (("worths", -1), RING, SAME, ("clash", (), (), (0, 1, 2), (2, 1, 0))),
     (("worths", -1), PAIR, ODD[:2], ("clash", (), (), (0, 1), (1, 0))),
 )
 
@@ -94,13 +108,13 @@ class Checker(PaperCase):
                 self.refused(InvalidPaper, {"word": word, "at": at}, lets_fit, book, rule, thing)
 
     def test_papers_that_are_told(self):
-        for book in (*SMALL_BOOKS, *GREAT_BOOKS):
+        for book in (*RULE_BOOKS, *GREAT_BOOKS):
             for rule in rules_of(book[1], 1, "told"):
                 paper = fit_paper(book, rule)
                 self.exact(lets_fit(book, rule, paper), paper[0] != "clash")
 
     def test_all(self):
-        for book in SMALL_BOOKS:
+        for book in RULE_BOOKS:
             for rule in rules_of(book[1], 1, "all"):
                 if plain.fits(book, rule):
                     self.exact(lets_fit(book, rule, ("all",)), True)
@@ -174,7 +188,7 @@ class Checker(PaperCase):
         return met
 
     def test_what_an_accepted_paper_states_is_true(self):
-        for book in SMALL_BOOKS[::3]:
+        for book in RULE_BOOKS[::3]:
             rules = rules_of(book[1], 1, "true")
             papers = [fit_paper(book, rule) for rule in rules]
             for rule, paper in itertools.product(rules, [*papers, ("all",)]):

@@ -12,14 +12,14 @@ from cutorclose.rulekinds import rule_of_checks
 from cutorclose.takes import left_by
 from tests import plain
 from tests.papers import PaperCase
-from tests.support import (BAD_PLACES, BAD_RULES, BOTH, FOUR, LONE, ODD, ODD_VALUES, RING, SMALL_BOOKS, STAR, WIDE, rules_of, splits)
+from tests.support import (BAD_PLACES, BAD_RULES, BOTH, FOUR, LONE, ODD, ODD_VALUES, RING, RULE_BOOKS, STAR, WIDE, rules_of, splits)
 from tests.test_bookchecker import FAULTS
 from tests.test_equations import NO_EQUATIONS
 from tests.test_lots import BAD_LOTS
 from tests.test_ruleclasses import BAD_FOURS
 from tests.test_rules import OTHER
 
-CASES = [(book, rule) for book in (*SMALL_BOOKS[::4], RING, STAR, WIDE, BOTH, LONE) for rule in rules_of(book[1], 1, "objects")]
+CASES = [(book, rule) for book in (*RULE_BOOKS[::4], RING, STAR, WIDE, BOTH, LONE) for rule in rules_of(book[1], 1, "objects")]
 
 
 def refusal(word):
@@ -115,13 +115,14 @@ class Fits(PaperCase):
 
     def test_no_places(self):
         one = Fit((5, 0, ()), ())
-        self.exact((one(), len(one), list(one), one.fits_now, one.failing_now, one.left((), ()) == one), ((1, 1), 0, [], True, (), True))
+        self.exact((one(), len(one), list(one), one.fits_now, one.failing_now), ((1, 1), 0, [], True, ()))
+        self.exact(one.left((), ()) == one, True)
 
     def test_never_changes(self):
         one = Fit(RING, ODD)
         before = (one.form_now, one.rule_now, one.fits_now, one.failing_now)
-        for call in (lambda: one.given(2, FOUR), lambda: one.left((0,), ()), lambda: ~one, lambda: list(one).clear(), lambda: one[("pair", 0, 1)],
-                     lambda: ("pair", 0, 1) in one, lambda: one == one, lambda: one.given(2, FOUR)()):
+        for call in (lambda: one.given(2, FOUR), lambda: one.left((0,), ()), lambda: ~one, lambda: list(one).clear(),
+                     lambda: one[("pair", 0, 1)], lambda: ("pair", 0, 1) in one, lambda: one == one, lambda: one.given(2, FOUR)()):
             call()
             self.exact((one.form_now, one.rule_now, one.fits_now, one.failing_now), before)
             self.exact((len(one), list(one)), (2, list(before[3])))

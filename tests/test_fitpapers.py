@@ -7,7 +7,7 @@ from cutorclose.errors import NotUsable
 from cutorclose.fitpapers import fit_paper
 from tests import plain
 from tests.papers import PaperCase, has_parts_paper
-from tests.support import BAD_RULES, BOTH, FOUR, GREAT_BOOKS, LONE, ODD, RING, SMALL_BOOKS, STAR, WIDE, four_by, quotients, rules_of
+from tests.support import BAD_RULES, BOTH, FOUR, GREAT_BOOKS, LONE, ODD, RING, RULE_BOOKS, STAR, WIDE, four_by, quotients, rules_of
 from tests.test_leavings import EIGHT
 
 # Alike at a pair only: pair gaps are nought, brackets are not.
@@ -34,7 +34,7 @@ class Papers(PaperCase):
 
     def test_small_books(self):
         met = {"parts": 0, "all": 0, "clash": 0}
-        for book in SMALL_BOOKS:
+        for book in RULE_BOOKS:
             for rule in rules_of(book[1], 2, "papers"):
                 word = self.check_paper(book, rule)
                 self.assertEqual(word == "clash", not plain.fits(book, rule))

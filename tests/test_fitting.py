@@ -14,7 +14,7 @@ from cutorclose.rulekinds import rule_left, rule_of_checks
 from cutorclose.takes import left_by
 from tests import plain
 from tests.papers import PaperCase
-from tests.support import (BAD_RULES, BOTH, FOUR, GREAT_BOOKS, LONE, ODD, RING, SMALL_BOOKS, STAR, WIDE, four_by, quotient, quotients,
+from tests.support import (BAD_RULES, BOTH, FOUR, GREAT_BOOKS, LONE, ODD, RING, RULE_BOOKS, STAR, WIDE, four_by, quotient, quotients,
                            rules_of, splits)
 from tests.test_fitpapers import LOOSE
 from tests.test_leavings import EIGHT
@@ -44,7 +44,7 @@ class Fitting(PaperCase):
 
     def test_by_all_trees_of_all_that_can_be_left(self):
         met = {True: 0, False: 0}
-        for book in SMALL_BOOKS:
+        for book in RULE_BOOKS:
             for rule in rules_of(book[1], 3, "fits"):
                 fit = plain.fits(book, rule)
                 worth, *more = plain.tree_worths(book, rule)
@@ -54,7 +54,7 @@ class Fitting(PaperCase):
         self.assertGreater(min(met.values()), 500)
 
     def test_by_all_orders_of_all_that_can_be_left(self):
-        for book in SMALL_BOOKS[::2]:
+        for book in RULE_BOOKS[::2]:
             for rule in rules_of(book[1], 1, "orders"):
                 told = [order_worths(left, its) for _, _, left, its in plain.all_left(book, rule)]
                 self.exact(fits(book, rule), all(len(worths) == 1 for worths in told))
@@ -77,7 +77,7 @@ class Fitting(PaperCase):
 
     def test_pair_gaps_alone_would_not_tell(self):
         met = {True: 0, False: 0}
-        for book in SMALL_BOOKS:
+        for book in RULE_BOOKS:
             for rule in rules_of(book[1], 8, "brackets"):
                 equations = [each for each in failing(book, rule) if each[0] == "pair"]
                 lots = [part for part in plain.parts(book) if len(part) > 2]
@@ -124,12 +124,12 @@ class Fitting(PaperCase):
 
 class Guarantees(PaperCase):
     def test_just_where_no_equation_fails(self):
-        for book in SMALL_BOOKS[::2]:
+        for book in RULE_BOOKS[::2]:
             for rule in rules_of(book[1], 1, "G1"):
                 self.exact(plain.fits(book, rule), failing(book, rule) == ())
 
     def test_left_as_pairs_rings_and_stars_just_within_parts(self):
-        for book in (*SMALL_BOOKS, BOTH):
+        for book in (*RULE_BOOKS, BOTH):
             parts = plain.parts(book)
             for many, judges in ((2, [plain.is_pair]), (3, [plain.is_ring, plain.is_star])):
                 for lot in plain.lots_of(book[1]):
@@ -139,7 +139,7 @@ class Guarantees(PaperCase):
 
     def test_without_noughts_just_by_the_only_ties(self):
         met = {True: 0, False: 0}
-        for book in (*SMALL_BOOKS, WIDE):
+        for book in (*RULE_BOOKS, WIDE):
             for rule in rules_of(book[1], 4, "G3"):
                 if plain.noughtless(book, rule):
                     ties = [plain.tie(rule, part) for part in plain.parts(book) if len(part) > 2]
@@ -152,7 +152,7 @@ class Guarantees(PaperCase):
 
     def test_tied_rules_fit(self):
         u, v = Fraction(-2, 3), Fraction(5)
-        for book in (*SMALL_BOOKS, *GREAT_BOOKS):
+        for book in (*RULE_BOOKS, *GREAT_BOOKS):
             rule = tuple(four_by(Fraction(k - 1), Fraction(2 - k, 3), u, v) for k in range(book[1]))
             self.exact(fits(book, rule), True)
             self.exact(worth_of(book, rule), quotient(plain.tie_sum(book, rule, u, v)))
@@ -160,17 +160,18 @@ class Guarantees(PaperCase):
 
 class WhatFollows(PaperCase):
     def test_all_that_can_be_left_and_the_checks(self):
-        for book in SMALL_BOOKS[::2]:
+        for book in RULE_BOOKS[::2]:
             for rule in rules_of(book[1], 1, "left"):
                 fit = fits(book, rule)
                 self.exact(fits(checks_of(book), rule_of_checks(rule)), fit)
-                told = [fits(left_by(book, closed, cut), rule_left(rule, tuple(sorted(closed + cut)))) for closed, cut in splits(book[1])]
+                told = [fits(left_by(book, closed, cut), rule_left(rule, tuple(sorted(closed + cut))))
+                        for closed, cut in splits(book[1])]
                 self.exact(all(told), fit)
 
     def test_books_side_by_side(self):
         met = set()
-        for one in SMALL_BOOKS[::8]:
-            for other in SMALL_BOOKS[::8]:
+        for one in RULE_BOOKS[::8]:
+            for other in RULE_BOOKS[::8]:
                 if one[0] == other[0]:
                     for rule in rules_of(one[1] + other[1], 1, "beside"):
                         told = (fits(one, rule[:one[1]]), fits(other, rule[one[1]:]))
@@ -180,7 +181,7 @@ class WhatFollows(PaperCase):
 
     def test_a_paper_of_parts_without_noughts(self):
         met = 0
-        for book in (*SMALL_BOOKS, *GREAT_BOOKS):
+        for book in (*RULE_BOOKS, *GREAT_BOOKS):
             for rule in rules_of(book[1], 2, "paper"):
                 if plain.noughtless(book, rule) and fits(book, rule):
                     self.exact(fit_paper(book, rule)[0], "parts")
@@ -188,7 +189,7 @@ class WhatFollows(PaperCase):
         self.assertGreater(met, 200)
 
     def test_the_same_everywhere(self):
-        for book in (*SMALL_BOOKS, *GREAT_BOOKS, *EIGHT):
+        for book in (*RULE_BOOKS, *GREAT_BOOKS, *EIGHT):
             for rule in rules_of(1, 1, "same"):
                 self.exact(fits(book, rule * book[1]), True)
 

@@ -9,7 +9,7 @@ from cutorclose.leavings import pair_left, pairs_of, ring_left, rings_of, star_l
 from cutorclose.partings import part_at
 from cutorclose.twins import alike_sets, are_alike, are_in_row, row_sets
 from tests import plain
-from tests.support import BAD_PLACES, BOTH, GREAT_BOOKS, LONE, RING, SMALL_BOOKS, STAR, Case
+from tests.support import BAD_PLACES, BOTH, GREAT_BOOKS, LONE, RING, STAR, Case
 from tests.test_lots import BAD_LOTS
 from tests.test_partings import MORE_BOOKS
 

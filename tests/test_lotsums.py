@@ -12,7 +12,7 @@ from cutorclose.lotsums import lot_sum, lot_term, tied_rule
 from cutorclose.quotients import multiplied, plus, summed, times
 from cutorclose.rulekinds import is_rule, rule_of_checks
 from tests import plain
-from tests.support import (BOTH, FOUR, GREAT_BOOKS, NUMBERS, RING, SMALL_BOOKS, STAR, WIDE, Case, lots_of, quotient, quotients, rules_of)
+from tests.support import (BOTH, FOUR, GREAT_BOOKS, NUMBERS, RING, RULE_BOOKS, STAR, WIDE, Case, lots_of, quotient, quotients, rules_of)
 from tests.test_leavings import EIGHT
 from tests.test_lots import BAD_LOTS
 
@@ -23,8 +23,9 @@ SOME = sorted(set(NUMBERS))
 TIES = [quotients(each) for each in itertools.product(SOME, repeat=2)]
 
 # What is no pair of quotients.
-NO_PAIRS = (None, True, 1, "any", (), ((2, 1),), ((2, 1), (1, 1), (1, 1)), [(2, 1), (1, 1)], ((2, 1), 1), ((2, 1), None), ((4, 2), (1, 1)),
-            ((2, 1), (0, 2)), ((2, 1), (1, 0)), ((2, 1), (1, -1)), ((True, 1), (1, 1)), ((2, 1), (1, True)), ((2, 1), [1, 1]), ((2, 1), "any"), (2, 1))
+NO_PAIRS = (None, True, 1, "any", (), ((2, 1),), ((2, 1), (1, 1), (1, 1)), [(2, 1), (1, 1)], ((2, 1), 1), ((2, 1), None),
+            ((4, 2), (1, 1)), ((2, 1), (0, 2)), ((2, 1), (1, 0)), ((2, 1), (1, -1)), ((True, 1), (1, 1)), ((2, 1), (1, True)),
+            ((2, 1), [1, 1]), ((2, 1), "any"), (2, 1))
 BAD_PAIRS = (None, True, 3, "pairs", [], list(ONES), ((1, 1), (1, 1), (1, 1)), *[(*ONES[:2], bad) for bad in NO_PAIRS],
              *[(bad, *ONES[:2]) for bad in NO_PAIRS])
 
@@ -39,14 +40,14 @@ def pairs_of(rule):
 
 class Sums(Case):
     def test_by_their_definition(self):
-        for book in SMALL_BOOKS:
+        for book in RULE_BOOKS:
             for k, rule in enumerate(rules_of(book[1], 1, "sums")):
                 for tie in TIES[k::13]:
                     wanted = plain.tie_sum(book, rule, Fraction(*tie[0]), Fraction(*tie[1]))
                     self.exact(lot_sum(book, pairs_of(rule), tie), quotient(wanted))
 
     def test_terms(self):
-        for book in SMALL_BOOKS[::2]:
+        for book in RULE_BOOKS[::2]:
             pairs = pairs_of(rules_of(book[1], 1, "terms")[0])
             for tie in TIES[::7]:
                 terms = [lot_term(book, pairs, tie, lot) for lot in lots_of(book[1])]
@@ -124,7 +125,7 @@ class Refused(Case):
 
 class Guarantees(Case):
     def test_the_sum_is_the_worth(self):
-        for book in (*SMALL_BOOKS, BOTH, WIDE):
+        for book in (*RULE_BOOKS, BOTH, WIDE):
             for k, rule in enumerate(rules_of(book[1], 1, "worth")):
                 for tie in TIES[k::17]:
                     tied = tied_rule(pairs_of(rule), tie)
@@ -132,7 +133,7 @@ class Guarantees(Case):
                     self.exact(worth_of(book, tied), lot_sum(book, pairs_of(rule), tie))
 
     def test_the_sum_of_the_checks(self):
-        for book in (*SMALL_BOOKS, BOTH, WIDE):
+        for book in (*RULE_BOOKS, BOTH, WIDE):
             for k, rule in enumerate(rules_of(book[1], 1, "checks")):
                 exchanged = tuple((cut, closed) for closed, cut in pairs_of(rule))
                 for u, v in TIES[k::17]:
@@ -142,19 +143,20 @@ class Guarantees(Case):
 
 class WhatFollows(Case):
     def test_the_tie_of_ones(self):
-        for book in (*SMALL_BOOKS, *GREAT_BOOKS):
+        for book in (*RULE_BOOKS, *GREAT_BOOKS):
             pairs = pairs_of(rules_of(book[1], 1, "ones")[0])
             self.exact(lot_sum(book, pairs, ((1, 1), (1, 1))), multiplied([plus(closed, cut) for closed, cut in pairs]))
 
     def test_the_tie_of_noughts_is_for_bases_only(self):
-        for book in (*SMALL_BOOKS, *GREAT_BOOKS):
+        for book in (*RULE_BOOKS, *GREAT_BOOKS):
             pairs = pairs_of((FOUR,) * book[1])
             lots = lots_of(book[1])
-            self.assertEqual(sorted(lot for lot in lots if lot_term(book, pairs, (NOUGHT, NOUGHT), lot) != NOUGHT), list(bases_of(book)))
+            giving = [lot for lot in lots if lot_term(book, pairs, (NOUGHT, NOUGHT), lot) != NOUGHT]
+            self.assertEqual(sorted(giving), list(bases_of(book)))
             self.exact(lot_sum(book, pairs, (NOUGHT, NOUGHT)), (len(bases_of(book)), 1))
 
     def test_books_side_by_side(self):
-        for one, other in itertools.product(SMALL_BOOKS[::9], repeat=2):
+        for one, other in itertools.product(RULE_BOOKS[::9], repeat=2):
             if one[0] == other[0]:
                 pairs = pairs_of(rules_of(one[1] + other[1], 1, "beside")[0])
                 for tie in TIES[::11]:

@@ -8,12 +8,12 @@ from cutorclose.fitting import fits
 from cutorclose.kinds import is_quotient
 from cutorclose.mendings import mended, mending_spots, values_for
 from tests import plain
-from tests.support import (BAD_PLACES, BAD_RULES, BOTH, FOUR, GREAT_BOOKS, LONE, ODD, RING, SMALL_BOOKS, STAR, WIDE, Case,
+from tests.support import (BAD_PLACES, BAD_RULES, BOTH, FOUR, GREAT_BOOKS, LONE, ODD, RING, RULE_BOOKS, STAR, WIDE, Case,
                            quotient, rules_of)
 from tests.test_fitpapers import LOOSE
 
 TRIED = [quotient(Fraction(*each)) for each in ((0, 1), (1, 1), (-1, 1), (2, 1), (1, 2), (-3, 2), (22, 7))]
-SOME_BOOKS = [book for book in SMALL_BOOKS if book[1] < 4][::3] + [RING, STAR, LONE]
+SOME_BOOKS = [book for book in RULE_BOOKS if book[1] < 4][::3] + [RING, STAR, LONE]
 
 
 def refusal(word):

@@ -12,7 +12,7 @@ from cutorclose.takes import cut_at, kept_by
 from cutorclose.tyings import tie_of
 from tests import plain
 from tests.papers import has_parts_paper
-from tests.support import (BAD_RULES, BOTH, FOUR, GREAT_BOOKS, LONE, ODD, RING, SMALL_BOOKS, STAR, WIDE, Case, quotient, rules_of)
+from tests.support import (BAD_RULES, BOTH, FOUR, GREAT_BOOKS, LONE, ODD, RING, RULE_BOOKS, STAR, WIDE, Case, quotient, rules_of)
 from tests.test_fitting import FLAT
 from tests.test_leavings import EIGHT
 from tests.test_lotsums import TIES
@@ -54,7 +54,7 @@ class Parts(Case):
 
     def test_by_their_definition(self):
         met = {True: 0, False: 0}
-        for book in SMALL_BOOKS:
+        for book in RULE_BOOKS:
             for rule in rules_of(book[1], 2, "parts"):
                 met[self.check(book, rule)] += 1
         self.assertGreater(min(met.values()), 300)
@@ -106,7 +106,7 @@ class Parts(Case):
 
 class WhatFollows(Case):
     def test_if_it_returns_the_rule_fits(self):
-        for book in SMALL_BOOKS:
+        for book in RULE_BOOKS:
             for rule in rules_of(book[1], 1, "fits"):
                 if has_parts_paper(book, rule):
                     self.exact(fits(book, rule), True)
@@ -118,7 +118,7 @@ class WhatFollows(Case):
 
     def test_without_noughts_just_if_it_fits(self):
         met = {True: 0, False: 0}
-        for book in (*SMALL_BOOKS, *GREAT_BOOKS):
+        for book in (*RULE_BOOKS, *GREAT_BOOKS):
             for rule in rules_of(book[1], 2, "noughts"):
                 if plain.noughtless(book, rule):
                     fit = fits(book, rule)
@@ -131,7 +131,7 @@ class WhatFollows(Case):
         self.assertGreater(min(met.values()), 50)
 
     def test_each_quotient_gives_the_same_sum(self):
-        for book in (*SMALL_BOOKS, WIDE, BOTH):
+        for book in (*RULE_BOOKS, WIDE, BOTH):
             for part in plain.parts(book):
                 left = cut_at(book, kept_by(book[1], part))
                 if len(part) > 1:

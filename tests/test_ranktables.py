@@ -10,21 +10,24 @@ from cutorclose.lotsums import lot_sum
 from cutorclose.quotients import multiplied, raised, summed
 from cutorclose.ranktables import checks_table, rank_table, table_sum
 from tests import plain
-from tests.support import BOTH, GREAT_BOOKS, RING, SMALL_BOOKS, STAR, WIDE, Case, lots_of
+from tests.support import BOTH, GREAT_BOOKS, RING, RULE_BOOKS, STAR, WIDE, Case, lots_of
 from tests.test_leavings import EIGHT
 from tests.test_lotsums import NO_PAIRS, TIE, TIES
 
 # What is no table.
 BAD_TABLES = (
-    None, True, 0, "", "12", (), [], [[1]], ((),), ((), ()), [(1,)], ([1],), (1,), (None,), ("1",), ((1,), None), ((1,), 1), ((1,), [1]), ((1,), ()),
+    None, True, 0, "", "12", (), [], [[1]], ((),), ((), ()), [(1,)], ([1],), (1,), (None,), ("1",), ((1,), None), ((1,), 1),
+    ((1,), [1]), ((1,), ()),
     # No numbers.
-    ((True,),), ((-1,),), ((None,),), (("1",),), (((1,),),), (([1],),), ((1,), (True,)), ((1,), (-1,)), ((1, False), (1, 1)), (((1, 1),),),
+    ((True,),), ((-1,),), ((None,),), (("1",),), (((1,),),), (([1],),), ((1,), (True,)), ((1,), (-1,)), ((1, False), (1, 1)),
+    (((1, 1),),),
     # Not all of one length, or longer than there are tuples.
     ((1,), (1, 0)), ((1, 0), (1,)), ((1, 0), (0, 1), (0,)), ((1, 0),), ((0, 0),), ((1, 0, 0), (0, 1, 0)), ((0, 0, 0), (0, 0, 0)),
     # Not 0 where r is above k.
     ((1, 1), (0, 1)), ((0, 2), (0, 1)), ((1, 0, 0), (0, 3, 1), (0, 0, 3)), ((1, 0, 1), (0, 2, 0), (0, 0, 1)),
     # Not 0 where k - r is above n - R.
-    ((1, 0), (1, 1)), ((1, 0), (0, 1), (1, 0)), ((1, 0), (1, 1), (1, 1)), ((1, 0, 0), (0, 2, 0), (0, 1, 1)), ((1, 0, 0), (1, 2, 0), (0, 0, 1)),
+    ((1, 0), (1, 1)), ((1, 0), (0, 1), (1, 0)), ((1, 0), (1, 1), (1, 1)), ((1, 0, 0), (0, 2, 0), (0, 1, 1)),
+    ((1, 0, 0), (1, 2, 0), (0, 0, 1)),
     ((1, 0, 0), (0, 3, 0), (1, 0, 3), (0, 0, 1)), ((1, 0, 0), (0, 3, 0), (0, 0, 3), (0, 2, 1)),
 )
 
@@ -47,7 +50,7 @@ def tables_of(size, rank, numbers):
 
 class Tables(Case):
     def test_by_their_definition(self):
-        for book in (*SMALL_BOOKS, *GREAT_BOOKS, *EIGHT[:3]):
+        for book in (*RULE_BOOKS, *GREAT_BOOKS, *EIGHT[:3]):
             ranks = [(len(lot), plain.rank(book, lot)) for lot in lots_of(book[1])]
             table = tuple(tuple(ranks.count((k, r)) for r in range(len(book[2]) + 1)) for k in range(book[1] + 1))
             self.exact(rank_table(book), table)
@@ -61,7 +64,7 @@ class Tables(Case):
         self.exact(rank_table(book)[4], (0, 0, 0, 0, 70, 0, 0, 0, 0))
 
     def test_sums(self):
-        for book in (*SMALL_BOOKS[::2], WIDE, BOTH, *EIGHT[:2]):
+        for book in (*RULE_BOOKS[::2], WIDE, BOTH, *EIGHT[:2]):
             for pair, tie in zip(TIES[::3], TIES[1::2]):
                 self.exact(table_sum(book, pair, tie), lot_sum(book, (pair,) * book[1], tie))
 
@@ -70,7 +73,7 @@ class Tables(Case):
             self.exact(table_sum((3, 0, ()), pair, tie), (1, 1))
 
     def test_checks(self):
-        for book in (*SMALL_BOOKS, *GREAT_BOOKS, *EIGHT):
+        for book in (*RULE_BOOKS, *GREAT_BOOKS, *EIGHT):
             self.exact(checks_table(rank_table(book)), rank_table(checks_of(book)))
 
     def test_tables_of_no_book(self):
@@ -102,19 +105,19 @@ class Tables(Case):
 
 class WhatFollows(Case):
     def test_the_sum_over_the_table(self):
-        for book in (*SMALL_BOOKS[::2], RING, STAR, *EIGHT):
+        for book in (*RULE_BOOKS[::2], RING, STAR, *EIGHT):
             table, size, whole = rank_table(book), book[1], len(book[2])
             for (closed, cut), (u, v) in zip(TIES[::7], TIES[2::5]):
-                terms = [multiplied([(table[k][r], 1), raised(closed, k), raised(cut, size - k), raised(u, whole - r), raised(v, k - r)])
-                         for k, r in spots(table) if r <= k]
+                terms = [multiplied([(table[k][r], 1), raised(closed, k), raised(cut, size - k), raised(u, whole - r),
+                                     raised(v, k - r)]) for k, r in spots(table) if r <= k]
                 self.exact(table_sum(book, (closed, cut), (u, v)), summed(terms))
 
     def test_twice_taken_to_the_checks(self):
-        for book in (*SMALL_BOOKS, *GREAT_BOOKS, *EIGHT):
+        for book in (*RULE_BOOKS, *GREAT_BOOKS, *EIGHT):
             self.exact(checks_table(checks_table(rank_table(book))), rank_table(book))
 
     def test_lots_of_the_checks(self):
-        for book in SMALL_BOOKS[::3]:
+        for book in RULE_BOOKS[::3]:
             checks = checks_of(book)
             for lot in lots_of(book[1]):
                 others = plain.others(book[1], lot)

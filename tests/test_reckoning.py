@@ -12,7 +12,7 @@ from cutorclose.reckoning import order_worths, steps_at, worth_by
 from cutorclose.rulekinds import rule_left, rule_of_checks
 from cutorclose.takes import closed_at, cut_at
 from tests import plain
-from tests.support import (BAD_ORDERS, BAD_PLACES, BAD_RULES, BOTH, FOUR, GREAT_BOOKS, LONE, ODD, RING, SMALL_BOOKS, STAR, WIDE, Case,
+from tests.support import (BAD_ORDERS, BAD_PLACES, BAD_RULES, BOTH, FOUR, GREAT_BOOKS, LONE, ODD, RING, RULE_BOOKS, STAR, WIDE, Case,
                            quotient, rules_of)
 
 FIVE = (5, 5, ((1, 0, 1, 1, 1), (0, 1, 1, 2, 4)))
@@ -36,7 +36,7 @@ def anew(order, gone):
 
 class Worths(Case):
     def test_by_the_words_of_the_definition(self):
-        for book in SMALL_BOOKS:
+        for book in RULE_BOOKS:
             for rule in rules_of(book[1], 1):
                 for order in orders(book[1])[::3]:
                     self.exact(worth_by(book, rule, order), quotient(plain.worth_by(book, rule, order)))
@@ -73,7 +73,7 @@ class Worths(Case):
 
 class AllOrders(Case):
     def test_all_different_worths(self):
-        for book in SMALL_BOOKS:
+        for book in RULE_BOOKS:
             for rule in rules_of(book[1], 1, "orders"):
                 wanted = sorted({plain.worth_by(book, rule, order) for order in orders(book[1])})
                 self.exact(order_worths(book, rule), tuple(quotient(each) for each in wanted))
@@ -93,7 +93,7 @@ class AllOrders(Case):
 
 class Steps(Case):
     def test_by_kind(self):
-        for book in (*SMALL_BOOKS, *GREAT_BOOKS):
+        for book in (*RULE_BOOKS, *GREAT_BOOKS):
             rule = rules_of(book[1], 1, "steps")[0]
             for place in range(book[1]):
                 closed, cut, alone, idle = rule[place]
@@ -103,7 +103,7 @@ class Steps(Case):
                 self.exact(steps_at(book, rule, place), wanted[plain.kind(book, place)])
 
     def test_as_the_definition_has_them(self):
-        for book in SMALL_BOOKS:
+        for book in RULE_BOOKS:
             rule = rules_of(book[1], 1, "ways")[1]
             for place in range(book[1]):
                 wanted = tuple((quotient(number), left, rest) for number, left, rest in plain.ways(book, rule, place))
@@ -139,7 +139,7 @@ class Refused(Case):
 
 class WhatFollows(Case):
     def test_the_sum_over_the_steps_of_the_first_place(self):
-        for book in SMALL_BOOKS:
+        for book in RULE_BOOKS:
             if book[1] > 0:
                 for rule in rules_of(book[1], 1, "sum"):
                     for order in orders(book[1])[::5]:
@@ -149,7 +149,7 @@ class WhatFollows(Case):
 
     def test_idle_and_lone_places_exchanged_with_their_neighbours(self):
         met = 0
-        for book in (*SMALL_BOOKS, *GREAT_BOOKS):
+        for book in (*RULE_BOOKS, *GREAT_BOOKS):
             size = book[1]
             rule = rules_of(size, 1, "exchanged")[0]
             for order, at in itertools.product(orders(min(size, 4))[::5], range(size - 1)):
@@ -164,7 +164,7 @@ class WhatFollows(Case):
         self.assertNotEqual(worth_by(RING, ODD, (0, 1, 2)), worth_by(RING, ODD, (0, 2, 1)))
 
     def test_books_side_by_side(self):
-        for one, other in itertools.product(SMALL_BOOKS[::11], repeat=2):
+        for one, other in itertools.product(RULE_BOOKS[::11], repeat=2):
             if one[0] == other[0]:
                 size = one[1] + other[1]
                 rule = rules_of(size, 1, "beside")[0]
@@ -174,7 +174,7 @@ class WhatFollows(Case):
                     self.exact(worth_by(beside(one, other), rule, order), multiplied([first, second]))
 
     def test_checks(self):
-        for book in SMALL_BOOKS:
+        for book in RULE_BOOKS:
             for rule in rules_of(book[1], 1, "checks"):
                 for order in orders(book[1])[::5]:
                     self.exact(worth_by(checks_of(book), rule_of_checks(rule), order), worth_by(book, rule, order))

@@ -14,7 +14,8 @@ from tests.test_rulelines import FAULTS as TEXT_FAULTS
 from tests.test_rules import FAULTS, MIXED, NO_FOURS, OTHER
 
 RULES = [rule for size in range(5) for rule in rules_of(size, 2, "objects")]
-BAD_FOURS = (*NO_FOURS, ((1, 1), (1, 1), (1, 1), (2, 2)), (1, 1, 1, 1), ((1, 1), (1, 1), (1, 1), True), ((True, 1), (1, 1), (3, 1), (2, 1)))
+BAD_FOURS = (*NO_FOURS, ((1, 1), (1, 1), (1, 1), (2, 2)), (1, 1, 1, 1), ((1, 1), (1, 1), (1, 1), True),
+             ((True, 1), (1, 1), (3, 1), (2, 1)))
 
 
 class Derived(Rule):
@@ -29,7 +30,8 @@ class Rules(Case):
     def test_properties_items_and_iteration(self):
         for rule in RULES:
             one = Rule(*rule)
-            self.exact((one.rule_now, one.size_now, len(one), list(one), str(one)), (rule, len(rule), len(rule), list(rule), rule_line(rule)))
+            self.exact((one.rule_now, one.size_now, len(one), list(one)), (rule, len(rule), len(rule), list(rule)))
+            self.exact(str(one), rule_line(rule))
             for place, four in enumerate(rule):
                 self.exact(one[place], four)
                 for index, number in enumerate(four):
@@ -67,7 +69,8 @@ class Rules(Case):
             order = tuple(range(book[1]))[::-1]
             self.exact(Rule(*rule)(book, order), worth_by(book, rule, order))
         one = Rule(*ODD)
-        for bad in (*ODD_VALUES, (), WIDE, (2, 0, ()), (2, 3, [(1, 1, 1)]), (2, 3, ((1, 1, 0), (0, 1, 1))), (2, True, ()), list(RING), ODD):
+        for bad in (*ODD_VALUES, (), WIDE, (2, 0, ()), (2, 3, [(1, 1, 1)]), (2, 3, ((1, 1, 0), (0, 1, 1))), (2, True, ()),
+                    list(RING), ODD):
             self.refused(NotUsable, refusal("book"), one, bad, (0, 1, 2))
             self.refused(NotUsable, refusal("book"), one, bad, None)
         self.refused(NotUsable, refusal("book"), one, (2, GREAT, ()), (0, 1, 2))
@@ -136,8 +139,9 @@ class Rules(Case):
         fours = list(MIXED)
         one = Rule(*fours)
         fours.clear()
-        for call in (lambda: one.left((0,)), lambda: one.checks(), lambda: one.given(0, FOUR), lambda: one + one, lambda: list(one).clear(),
-                     lambda: str(one), lambda: one[0], lambda: one(STAR, (0, 1, 2)), lambda: one.number(0, 0), lambda: FOUR in one):
+        for call in (lambda: one.left((0,)), lambda: one.checks(), lambda: one.given(0, FOUR), lambda: one + one,
+                     lambda: list(one).clear(), lambda: str(one), lambda: one[0], lambda: one(STAR, (0, 1, 2)),
+                     lambda: one.number(0, 0), lambda: FOUR in one):
             call()
             self.exact((one.rule_now, list(one), len(one)), (MIXED, list(MIXED), 3))
         for name in ("rule_now", "size_now"):
@@ -155,7 +159,8 @@ class Evens(Case):
         for size in (0, 1, 3, 8):
             one = Even(size, OTHER)
             self.assertIsInstance(one, Rule)
-            self.exact((one.rule_now, one.four_now, one.size_now, len(one), list(one)), (same_rule(size, OTHER), OTHER, size, size, [OTHER] * size))
+            self.exact((one.rule_now, one.four_now, one.size_now), (same_rule(size, OTHER), OTHER, size))
+            self.exact((len(one), list(one)), (size, [OTHER] * size))
             self.exact(OTHER in one, size > 0)
         self.exact(Even(3, FOUR)(RING, (0, 1, 2)), (14, 1))
         with self.assertRaises(AttributeError):

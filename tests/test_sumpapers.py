@@ -9,7 +9,7 @@ from cutorclose.partsums import worth_by_parts
 from cutorclose.sumchecker import lets_sum
 from cutorclose.sumpapers import sum_paper
 from tests import plain
-from tests.support import (BAD_RULES, BOTH, FOUR, GREAT_BOOKS, LONE, ODD, ODD_VALUES, RING, SMALL_BOOKS, STAR, WIDE, Case, quotient,
+from tests.support import (BAD_RULES, BOTH, FOUR, GREAT_BOOKS, LONE, ODD, ODD_VALUES, RING, RULE_BOOKS, STAR, WIDE, Case, quotient,
                            rules_of)
 from tests.test_fitchecker import lots_of_lots
 from tests.test_fitting import FLAT, NOUGHTS
@@ -27,7 +27,8 @@ WHOLE = ((0, 1, 2), TIE, (14, 1))
 FAULTS = (
     *[(("shape", -1), RING, SAME, thing) for thing in ODD_VALUES],
     *[(("shape", -1), RING, SAME, thing) for thing in (
-        ("sums",), ("sums", None), ("sums", [WHOLE]), ("sums", (WHOLE,), ()), ["sums", (WHOLE,)], ("sum", (WHOLE,)), ("Sums", ()), (None, ()),
+        (), ("sums",), ("sums", None), ("sums", [WHOLE]), ("sums", (WHOLE,), ()), ["sums", (WHOLE,)], ("sum", (WHOLE,)),
+        ("Sums", ()), (None, ()),
         (True, ()), (("sums",), ()), (["sums"], ()), "sums", ((WHOLE,), "sums"), ("parts", ()))],
     # A block that is no triple of its kinds.
     *[(("block", 0), RING, SAME, ("sums", (block,))) for block in
@@ -38,24 +39,35 @@ FAULTS = (
     *[(("block", 0), RING, SAME, ("sums", (((0, 1, 2), TIE, worth),))) for worth in NO_QUOTIENTS],
     (("block", 1), BOTH, MANY, ("sums", (WHOLE, ((3, 4, 6), TIE, (9, 1))))),
     # A place of a block ahead, before the tie.
-    (("again", 1), BOTH, MANY, ("sums", (WHOLE, WHOLE))), (("again", 1), BOTH, MANY, ("sums", (WHOLE, ((2, 3), OTHER_TIE, (0, 1))))),
+    (("again", 1), BOTH, MANY, ("sums", (WHOLE, WHOLE))),
+    (("again", 1), BOTH, MANY, ("sums", (WHOLE, ((2, 3), OTHER_TIE, (0, 1))))),
     (("again", 2), LONE, MANY[:4], ("sums", (((0,), None, (3, 1)), ((1, 2), TIE, (5, 1)), ((0, 3), None, (6, 1))))),
     # A tie that does not hold, or None where it may not stand, before the worth.
     (("tie", 0), RING, ODD, ("sums", (WHOLE,))), (("tie", 0), RING, SAME, ("sums", (((0, 1, 2), OTHER_TIE, (8, 1)),))),
-    (("tie", 0), RING, SAME, ("sums", (((0, 1, 2), ((2, 1), (0, 1)), (0, 1)),))), (("tie", 0), RING, SAME, ("sums", (((0, 1, 2), None, (14, 1)),))),
-    (("tie", 0), BOTH, MANY, ("sums", (((0, 1, 2, 3, 4, 5), None, (126, 1)),))), (("tie", 0), PAIR, (FOUR, ODD[2]), ("sums", (((0, 1), None, (5, 1)),))),
-    (("tie", 0), PAIR, (FOUR, ODD[2]), ("sums", (((0, 1), TIE, (5, 1)),))), (("tie", 1), BOTH, SAME + ODD, ("sums", (WHOLE, ((3, 4, 5), TIE, (9, 1))))),
-    (("tie", 0), STAR, ODD, ("sums", (((0, 2), None, (5, 1)), ((1,), None, (3, 1))))), (("tie", 0), LONE, MANY[:4], ("sums", (((0, 1, 2), None, (15, 1)),))),
+    (("tie", 0), RING, SAME, ("sums", (((0, 1, 2), ((2, 1), (0, 1)), (0, 1)),))),
+    (("tie", 0), RING, SAME, ("sums", (((0, 1, 2), None, (14, 1)),))),
+    (("tie", 0), BOTH, MANY, ("sums", (((0, 1, 2, 3, 4, 5), None, (126, 1)),))),
+    (("tie", 0), PAIR, (FOUR, ODD[2]), ("sums", (((0, 1), None, (5, 1)),))),
+    (("tie", 0), PAIR, (FOUR, ODD[2]), ("sums", (((0, 1), TIE, (5, 1)),))),
+    (("tie", 1), BOTH, SAME + ODD, ("sums", (WHOLE, ((3, 4, 5), TIE, (9, 1))))),
+    (("tie", 0), STAR, ODD, ("sums", (((0, 2), None, (5, 1)), ((1,), None, (3, 1))))),
+    (("tie", 0), LONE, MANY[:4], ("sums", (((0, 1, 2), None, (15, 1)),))),
     (("tie", 1), LONE, (FOUR, FOUR, ODD[2], FOUR), ("sums", (((), OTHER_TIE, (1, 1)), ((1, 2), None, (5, 1))))),
     # Another worth.
-    (("worth", 0), RING, SAME, ("sums", (((0, 1, 2), TIE, (15, 1)),))), (("worth", 0), RING, SAME, ("sums", (((0, 1, 2), TIE, (-14, 1)),))),
-    (("worth", 0), RING, SAME, ("sums", (((), None, (0, 1)), WHOLE))), (("worth", 1), BOTH, MANY, ("sums", (WHOLE, ((3, 4, 5), TIE, (14, 1))))),
-    (("worth", 0), LONE, MANY[:4], ("sums", (((0,), None, (2, 1)),))), (("worth", 1), LONE, MANY[:4], ("sums", (((), TIE, (1, 1)), ((3,), None, (3, 1))))),
-    (("worth", 0), PAIR, (FLAT, FLAT), ("sums", (((0, 1), None, (2, 1)),))), (("worth", 0), LONE, MANY[:4], ("sums", (((0, 3), None, (5, 1)),))),
+    (("worth", 0), RING, SAME, ("sums", (((0, 1, 2), TIE, (15, 1)),))),
+    (("worth", 0), RING, SAME, ("sums", (((0, 1, 2), TIE, (-14, 1)),))),
+    (("worth", 0), RING, SAME, ("sums", (((), None, (0, 1)), WHOLE))),
+    (("worth", 1), BOTH, MANY, ("sums", (WHOLE, ((3, 4, 5), TIE, (14, 1))))),
+    (("worth", 0), LONE, MANY[:4], ("sums", (((0,), None, (2, 1)),))),
+    (("worth", 1), LONE, MANY[:4], ("sums", (((), TIE, (1, 1)), ((3,), None, (3, 1))))),
+    (("worth", 0), PAIR, (FLAT, FLAT), ("sums", (((0, 1), None, (2, 1)),))),
+    (("worth", 0), LONE, MANY[:4], ("sums", (((0, 3), None, (5, 1)),))),
     # All of one block before the next one, and these before a place that lacks.
     (("worth", 0), BOTH, MANY, ("sums", (((0, 1, 2), TIE, (15, 1)), None))), (("block", 1), BOTH, MANY, ("sums", (WHOLE, None))),
-    (("lacks", 0), RING, SAME, ("sums", ())), (("lacks", 3), BOTH, MANY, ("sums", (WHOLE,))), (("lacks", 0), BOTH, MANY, ("sums", (((3, 4, 5), TIE, (9, 1)),))),
-    (("lacks", 1), LONE, MANY[:4], ("sums", (((0,), None, (3, 1)), ((3,), None, (2, 1))))), (("lacks", 2), RING, SAME, ("sums", (((0, 1), TIE, (9, 1)),))),
+    (("lacks", 0), RING, SAME, ("sums", ())), (("lacks", 3), BOTH, MANY, ("sums", (WHOLE,))),
+    (("lacks", 0), BOTH, MANY, ("sums", (((3, 4, 5), TIE, (9, 1)),))),
+    (("lacks", 1), LONE, MANY[:4], ("sums", (((0,), None, (3, 1)), ((3,), None, (2, 1))))),
+    (("lacks", 2), RING, SAME, ("sums", (((0, 1), TIE, (9, 1)),))),
     # Ranks that come to more, last of all.
     (("ranks", -1), RING, SAME, ("sums", (((0, 1), TIE, (9, 1)), ((2,), None, (3, 1))))),
     (("ranks", -1), RING, SAME, ("sums", (((0, 1), None, (9, 1)), ((2,), None, (3, 1))))),
@@ -83,7 +95,7 @@ def wanted_worth(book, rule, lot, tie):
 class SumPapers(Case):
     def test_that_the_checker_accepts_them(self):
         met = {True: 0, False: 0}
-        for book in (*SMALL_BOOKS, *GREAT_BOOKS, *EIGHT):
+        for book in (*RULE_BOOKS, *GREAT_BOOKS, *EIGHT):
             for rule in rules_of(book[1], 1, "papers"):
                 try:
                     worth = worth_by_parts(book, rule)
@@ -125,7 +137,8 @@ class Checker(Case):
         self.exact(lets_sum(BOTH, MANY, ("sums", (star, WHOLE))), (126, 1))
         self.exact(lets_sum(BOTH, MANY, ("sums", (((0, 1, 2, 3, 4, 5), TIE, (126, 1)),))), (126, 1))
         # Blocks of no places, with a tie or without one.
-        self.exact(lets_sum(BOTH, MANY, ("sums", (((), None, (1, 1)), star, ((), OTHER_TIE, (1, 1)), WHOLE, ((), TIE, (1, 1))))), (126, 1))
+        blocks = (((), None, (1, 1)), star, ((), OTHER_TIE, (1, 1)), WHOLE, ((), TIE, (1, 1)))
+        self.exact(lets_sum(BOTH, MANY, ("sums", blocks)), (126, 1))
         self.exact(lets_sum((2, 0, ()), (), ("sums", ())), (1, 1))
         self.exact(lets_sum((2, 0, ()), (), ("sums", (((), None, (1, 1)),))), (1, 1))
         # Two places of two parts are no pair, whatever their gap is.

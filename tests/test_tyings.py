@@ -7,7 +7,7 @@ from fractions import Fraction
 from cutorclose.errors import NotUsable
 from cutorclose.tyings import holds_at, tie_of, ties_of
 from tests import plain
-from tests.support import (BAD_RULES, BOTH, FOUR, GREAT_BOOKS, LONE, NO_RULES, ODD, RING, SMALL_BOOKS, Case, four_by, lots_of,
+from tests.support import (BAD_RULES, BOTH, FOUR, GREAT_BOOKS, LONE, NO_RULES, ODD, RING, RULE_BOOKS, Case, four_by, lots_of,
                            quotient, quotients, rules_of)
 from tests.test_lots import BAD_LOTS
 from tests.test_lotsums import NO_PAIRS, TIE, TIES
@@ -98,7 +98,7 @@ class Ties(Case):
         self.exact(tie_of(rule, (0, 1)), quotients((u, v)))
 
     def test_of_each_part(self):
-        for book in (*SMALL_BOOKS, *GREAT_BOOKS):
+        for book in (*RULE_BOOKS, *GREAT_BOOKS):
             for rule in rules_of(book[1], 1, "parts"):
                 self.exact(ties_of(book, rule), tuple(wanted_tie(rule, part) for part in plain.parts(book)))
         self.exact(ties_of((2, 0, ()), ()), ())
