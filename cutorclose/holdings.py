@@ -21,10 +21,14 @@ def tied_parts(book, rule):
 
 def tie_for(rule, part):
     """A tie that holds at all places of the part; None if none does, or there is but one place."""
-    tie = tie_of(rule, part)
-    if tie is None or len(part) == 1:
+    return None if len(part) == 1 else whole_tie(rule, part)
+
+
+def whole_tie(rule, lot):
+    """A tie that holds at all places of the lot, nought where each quotient will do; None if none does."""
+    tie = tie_of(rule, lot)
+    if tie is None:
         return None
-    # Where each quotient will do, nought is taken.
     return tuple([NOUGHT if each == "any" else each for each in tie])
 
 

@@ -54,6 +54,7 @@ def free(a_book, lot):
     return rank(a_book, lot) == len(lot)
 
 
+@functools.cache
 def checks(a_book):
     prime, size, _ = a_book
     own = words(a_book)
@@ -236,3 +237,75 @@ def tie_sum(a_book, rule, u, v):
 def noughtless(a_book, rule):
     """Whether none of the four numbers is 0 of any place that is of one part with another place."""
     return all(all(number[0] for number in rule[place]) for part in parts(a_book) if len(part) > 1 for place in part)
+
+
+def quotient_rule(four_list):
+    """The rule of fours told by fractions."""
+    return tuple(tuple(pair(Fraction(number)) for number in four) for four in four_list)
+
+
+def merged(a_book, rule, word, e, f):
+    """The book and the rule in which one place stands for two that are alike, or in a row, as the word says."""
+    (x_e, y_e, X_e, Y_e), (x_f, y_f, X_f, Y_f) = fours(rule)[e], fours(rule)[f]
+    four = {"alike": (x_e * Y_f + y_e * x_f, y_e * y_f, y_e * X_f + x_e * Y_f, Y_e * Y_f),
+            "in row": (x_e * x_f, y_e * X_f + x_e * y_f, X_e * X_f, x_e * Y_f + y_e * X_f)}[word]
+    least, greatest = sorted((e, f))
+    its = [four if place == least else other for place, other in enumerate(fours(rule)) if place != greatest]
+    return {"alike": cut, "in row": closed}[word](a_book, (greatest,)), quotient_rule(its)
+
+
+def in_row(a_book, one, other):
+    return alike(checks(a_book), one, other)
+
+
+@functools.cache
+def standing(a_book):
+    """All steps that stand in a book, ascending."""
+    places = range(a_book[1])
+    steps = [("take", place) for place in places if kind(a_book, place) != "ordinary"]
+    for e, f in itertools.combinations(places, 2):
+        steps += [("alike", e, f)] * alike(a_book, e, f) + [("in row", e, f)] * in_row(a_book, e, f)
+    return tuple(sorted(steps))
+
+
+def behind(a_book, rule, step):
+    """The factor, the book and the rule behind a step."""
+    if step[0] == "take":
+        (way,) = ways(a_book, rule, step[1])
+        return way
+    return (Fraction(1), *merged(a_book, rule, *step))
+
+
+@functools.cache
+def ends(a_book):
+    """All books to which steps lead, whichever are chosen, behind which none stands."""
+    if not standing(a_book):
+        return frozenset([a_book])
+    noughts = ((((0, 1),) * 4),) * a_book[1]
+    return frozenset().union(*[ends(behind(a_book, noughts, step)[1]) for step in standing(a_book)])
+
+
+def rank_kind(a_book):
+    """The ranks of all lots, but for the order of the places: alike for books that differ in no more than that."""
+    lots = lots_of(a_book[1])
+    ranks = {lot: rank(a_book, lot) for lot in lots}
+    orders = itertools.permutations(range(a_book[1]))
+    return min(tuple(ranks[tuple(sorted(order[place] for place in lot))] for lot in lots) for order in orders)
+
+
+def given(word_list, letters):
+    """The product, over all places, of a where all these words have 0 there, of b where not, letters being fractions."""
+    result = Fraction(1)
+    for place, (a, b) in enumerate(letters):
+        result *= b if any(word[place] for word in word_list) else a
+    return result
+
+
+def tuples_sum(a_book, letters, many):
+    """The sum over all tuples of so many words, letters being fractions."""
+    return sum(given(told, letters) for told in itertools.product(words(a_book), repeat=many))
+
+
+def weight_counts(a_book):
+    weights = [sum(digit != 0 for digit in word) for word in words(a_book)]
+    return tuple(weights.count(k) for k in range(a_book[1] + 1))

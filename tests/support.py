@@ -34,6 +34,11 @@ def fields_of(error):
     return {name: getattr(error, name) for name in vars(error) if not name.startswith("__")}
 
 
+def refusal(word):
+    """The fields of NotUsable for the parameter of this name."""
+    return {"word": word, "at": -1}
+
+
 class Case(unittest.TestCase):
     """A test case with checks of exact kinds, and of errors with their fields."""
 

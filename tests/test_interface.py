@@ -11,6 +11,8 @@ from tests.support import BOTH, FOUR, ODD, RING, STAR, Case
 TIE = ((2, 1), (1, 1))
 ONES = (((1, 1), (1, 1)),) * 3
 PARTS = ("parts", (((0, 1, 2), TIE),))
+ROW = ("in row", 0, 1)
+DOWN = ("down", (ROW, ("alike", 0, 1), ("take", 0)), (14, 1))
 TREE = (0, (0, (0, ()), (0, ())), (0, (0, ())))
 
 # For each function its module, its name, its parameters, and rows of arguments, also wrong ones.
@@ -108,6 +110,28 @@ FUNCTIONS = [
     ("sumchecker", "lets_sum", "book rule thing", [(RING, (FOUR,) * 3, ("sums", (((0, 1, 2), TIE, (14, 1)),))),
                                                    (RING, ODD, ["sums", [[]]]), (RING, list(ODD), []),
                                                    (RING, ODD, ("sums", ([(0, 1, 2), TIE, (14, 1)],)))]),
+    ("merging", "merged_alike", "book rule one other",
+     [(STAR, ODD, 2, 0), (STAR, list(ODD), 2, 0), (STAR, ODD, [2], 0), (RING, ODD, 2, 0)]),
+    ("merging", "merged_in_row", "book rule one other",
+     [(RING, ODD, 2, 0), (RING, list(ODD), 2, 0), (RING, ODD, 2, [0]), (STAR, ODD, 2, 0)]),
+    ("doubling", "twinned", "book place", [(RING, 1), (RING, [1])]),
+    ("doubling", "rowed", "book place", [(RING, 1), (RING, [1])]),
+    ("downs", "stands", "book step", [(RING, ROW), (RING, list(ROW)), (RING, ("in row", [0], 1))]),
+    ("downs", "after_step", "book rule step", [(RING, ODD, ROW), (RING, list(ODD), ROW), (RING, ODD, list(ROW))]),
+    ("downs", "comes_down", "book", [(BOTH,)]),
+    ("downs", "brought_down", "book rule", [(RING, ODD), (RING, list(ODD))]),
+    ("downs", "worth_by_downs", "book rule", [(RING, ODD), (RING, list(ODD))]),
+    ("downpapers", "down_paper", "book rule", [(RING, ODD), (RING, list(ODD))]),
+    ("downchecker", "lets_down", "book rule thing",
+     [(RING, (FOUR,) * 3, DOWN), (RING, ODD, list(DOWN)), (RING, ODD, ("held", [list(ROW)])), (RING, ODD, ("held", (list(ROW),))),
+      (RING, list(ODD), DOWN)]),
+    ("letters", "words_sum", "book letters", [(RING, ONES), (RING, list(ONES))]),
+    ("letters", "tuples_sum", "book letters many", [(RING, ONES, 2), (RING, list(ONES), 2), (RING, ONES, [2])]),
+    ("letters", "letters_rule", "prime letters many", [(2, ONES, 2), ([2], ONES, 2), (2, list(ONES), 2)]),
+    ("letters", "checks_letters", "prime letters", [(2, ONES), (2, list(ONES))]),
+    ("weights", "weight_counts", "book", [(BOTH,)]),
+    ("weights", "words_on", "book lot", [(RING, (0, 2)), (RING, [0, 2])]),
+    ("weights", "checks_counts", "prime counts", [(2, (1, 0, 3, 0)), (2, [1, 0, 3, 0]), (2, (1, 2, 0))]),
 ]
 
 # For each class its module, its name, the parameters of its creation, and what its own body has to hold.
@@ -124,6 +148,10 @@ CLASSES = [
     ("ruleclasses", "Even", "size four", {}, "four_now"),
     ("fitclasses", "Fit", "book rule", {"given": "place four", "left": "closed cut", "__call__": ""},
      "form_now rule_now fits_now failing_now __getitem__ __contains__ __len__ __iter__ __invert__ __eq__"),
+    ("tieclasses", "Tied", "pairs tie", {"exchanged": "", "without": "lot", "__call__": "book"},
+     "pairs_now tie_now rule_now __getitem__ __len__ __iter__ __eq__ of"),
+    ("downclasses", "Going", "book rule steps", {"can_add": "step", "can_stand": "", "back": "", "__add__": "other"},
+     "begun_now steps_now factor_now book_now rule_now is_done __len__ __iter__ __contains__ __eq__ of"),
 ]
 
 
