@@ -16,10 +16,9 @@ def words_sum(book, letters):
 def tuples_sum(book, letters, many):
     """The sum over all tuples of so many words: at each place a where all have 0, b where not, all multiplied."""
     need(is_pairs(book[1], letters), "letters")
-    need(is_number(many), "many")
     # All tuples are too many to go through them, but there is a sum over all lots that is the same.
-    prime = book[0]
-    return lot_sum(book, pairs_in(letters_rule(prime, letters, many)), letters_tie(prime, many))
+    rule = letters_rule(book[0], letters, many)
+    return lot_sum(book, pairs_in(rule), letters_tie(book[0], many))
 
 
 def letters_rule(prime, letters, many):

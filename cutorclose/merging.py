@@ -1,7 +1,7 @@
 """Two places that are alike, or in a row, made one."""
 
 from cutorclose.brackets import crossed
-from cutorclose.needs import need, need_two_places
+from cutorclose.needs import need
 from cutorclose.quotients import plus, times
 from cutorclose.rulekinds import need_rule, rule_left, rule_with
 from cutorclose.takes import closed_at, cut_at
@@ -10,7 +10,8 @@ from cutorclose.twins import are_alike, are_in_row
 
 def merged_alike(book, rule, one, other):
     """The pair of the book and the rule in which the lesser of two alike places stands for both."""
-    need_rule_and_places(book, rule, one, other)
+    need_rule(book, rule)
+    # What are not two different places is refused by the question itself.
     need(are_alike(book, one, other), "other")
     four = alike_four(rule[one], rule[other])
     return (cut_at(book, (max(one, other),)), merged_rule(rule, one, other, four))
@@ -18,16 +19,10 @@ def merged_alike(book, rule, one, other):
 
 def merged_in_row(book, rule, one, other):
     """The pair of the book and the rule in which the lesser of two places in a row stands for both."""
-    need_rule_and_places(book, rule, one, other)
+    need_rule(book, rule)
     need(are_in_row(book, one, other), "other")
     four = row_four(rule[one], rule[other])
     return (closed_at(book, (max(one, other),)), merged_rule(rule, one, other, four))
-
-
-def need_rule_and_places(book, rule, one, other):
-    """Refuse what is no rule of the book, or are not two different places of it."""
-    need_rule(book, rule)
-    need_two_places(book[1], one, other, "one")
 
 
 def merged_rule(rule, one, other, four):

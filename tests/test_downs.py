@@ -96,7 +96,11 @@ class Steps(Case):
             self.refused(NotUsable, refusal("rule"), after_step, RING, bad, None)
             self.refused(NotUsable, refusal("rule"), brought_down, RING, bad)
             self.refused(NotUsable, refusal("rule"), worth_by_downs, RING, bad)
-            self.refused(NotUsable, refusal("rule"), worth_by_downs, (2, 6, ()), bad)
+            # Also where no step stands.
+            for book in (HELD[2], (3, 0, ())):
+                if bad != ():
+                    self.refused(NotUsable, refusal("rule"), brought_down, book, bad)
+                    self.refused(NotUsable, refusal("rule"), worth_by_downs, book, bad)
         for bad in (*NO_STEPS, *NOT_STANDING):
             self.refused(NotUsable, refusal("step"), after_step, RING, SAME, bad)
 
