@@ -11,33 +11,38 @@ def read_book(text):
     """The book whose line the string is; InvalidText with the field of the first fault otherwise."""
     need(isinstance(text, str), "text")
     words = text.split(" ")
-    prime, size = read_head(words)
+    book, field = book_at(words, 0)
+    need_end(words, field)
+    return book
+
+
+def book_at(words, start):
+    """The pair of the book whose words begin at this field, and the field behind them: the end, or a word rule."""
+    prime, size = head_at(words, start)
     rows = []
-    field = 3
-    while field < len(words):
-        row = read_row(words, field, prime, size)
+    field = start + 3
+    while field < len(words) and words[field] != "rule":
+        row = row_at(words, field, prime, size)
         # All rows ahead are settled already, so a fault of the whole is one of this row.
         if not is_book((prime, size, (*rows, row))):
             raise InvalidText(0, field)
         rows.append(row)
         field = field + 1 + size
-    return (prime, size, tuple(rows))
+    return ((prime, size, tuple(rows)), field)
 
 
-def read_head(words):
-    """The pair of the prime and the size, behind the word book."""
-    if words[0] != "book":
-        raise InvalidText(0, 0)
-    prime = number_at(words, 1)
+def head_at(words, start):
+    """The pair of the prime and the size, behind the word book at this field."""
+    need_word(words, start, "book")
+    prime = number_at(words, start + 1)
     if not is_prime(prime):
-        raise InvalidText(0, 1)
-    return (prime, number_at(words, 2))
+        raise InvalidText(0, start + 1)
+    return (prime, number_at(words, start + 2))
 
 
-def read_row(words, field, prime, size):
-    """The row whose / stands at the field."""
-    if words[field] != "/":
-        raise InvalidText(0, field)
+def row_at(words, field, prime, size):
+    """The row whose / stands at this field."""
+    need_word(words, field, "/")
     digits = []
     # A row that is not whole ends at the first word that lacks, however great the size is.
     for at in range(field + 1, field + 1 + size):
@@ -49,10 +54,22 @@ def read_row(words, field, prime, size):
 
 
 def number_at(words, field):
-    """The number that the word with this index writes."""
+    """The number that the word at this field writes."""
     if field >= len(words) or not writes_number(words[field]):
         raise InvalidText(0, field)
     return int(words[field])
+
+
+def need_word(words, field, word):
+    """InvalidText unless the word stands at this field."""
+    if field >= len(words) or words[field] != word:
+        raise InvalidText(0, field)
+
+
+def need_end(words, field):
+    """InvalidText unless the words end ahead of this field."""
+    if len(words) > field:
+        raise InvalidText(0, field)
 
 
 def writes_number(word):

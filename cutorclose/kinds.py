@@ -50,13 +50,16 @@ def is_word(prime, size, thing):
     return is_tuple_of(size, thing) and all([is_below(prime, digit) for digit in thing])
 
 
-def is_lot(size, thing):
-    """Whether any value is a lot of so many places."""
-    if not isinstance(thing, tuple):
-        return False
-    if not all([is_below(size, place) for place in thing]):
+def is_ascending(thing):
+    """Whether any value is an ascending tuple of numbers, possibly ()."""
+    if not isinstance(thing, tuple) or not all([is_number(place) for place in thing]):
         return False
     return all([place < behind for place, behind in zip(thing, thing[1:])])
+
+
+def is_lot(size, thing):
+    """Whether any value is a lot of so many places."""
+    return is_ascending(thing) and (len(thing) == 0 or thing[-1] < size)
 
 
 def is_order(size, thing):

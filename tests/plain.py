@@ -309,3 +309,42 @@ def tuples_sum(a_book, letters, many):
 def weight_counts(a_book):
     weights = [sum(digit != 0 for digit in word) for word in words(a_book)]
     return tuple(weights.count(k) for k in range(a_book[1] + 1))
+
+
+def bases(a_book):
+    """The lots of as many places as the rank of the book that are free."""
+    whole = rank(a_book, range(a_book[1]))
+    return tuple(sorted(lot for lot in lots_of(a_book[1]) if len(lot) == whole and free(a_book, lot)))
+
+
+def lot_chance(odds, lot):
+    """The chance that just the places of the lot stay, odds being fractions."""
+    chance = Fraction(1)
+    for place, each in enumerate(odds):
+        chance *= each if place in lot else 1 - each
+    return chance
+
+
+def parcels(a_book, order):
+    """The triples (basis, lone, idle) by an order, its places told as they are called in the whole book."""
+    found = [((), (), ())]
+    for k, place in enumerate(order):
+        before, more = order[:k], []
+        for taken, lone, idle in found:
+            spared = tuple(sorted(set(before) - set(taken)))
+            names = others(a_book[1], before)
+            its = kind(left(a_book, tuple(sorted(taken)), spared), names.index(place))
+            if its == "idle":
+                more.append((taken, lone, (*idle, place)))
+            if its in ("alone", "ordinary"):
+                more.append(((*taken, place), (*lone, place) if its == "alone" else lone, idle))
+            if its == "ordinary":
+                more.append((taken, lone, idle))
+        found = more
+    return tuple(sorted(tuple(tuple(sorted(lot)) for lot in triple) for triple in found))
+
+
+def parcel_lots(triple, size):
+    """All lots of the parcel of a triple."""
+    basis, lone, idle = map(set, triple)
+    return [lot for lot in lots_of(size) if basis - lone <= set(lot) <= basis | idle]

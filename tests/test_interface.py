@@ -13,6 +13,8 @@ ONES = (((1, 1), (1, 1)),) * 3
 PARTS = ("parts", (((0, 1, 2), TIE),))
 ROW = ("in row", 0, 1)
 DOWN = ("down", (ROW, ("alike", 0, 1), ("take", 0)), (14, 1))
+HALF = ((1, 2),) * 3
+LOG = (("begin", RING, ODD), ("cut", (0,)))
 TREE = (0, (0, (0, ()), (0, ())), (0, (0, ())))
 
 # For each function its module, its name, its parameters, and rows of arguments, also wrong ones.
@@ -132,6 +134,22 @@ FUNCTIONS = [
     ("weights", "weight_counts", "book", [(BOTH,)]),
     ("weights", "words_on", "book lot", [(RING, (0, 2)), (RING, [0, 2])]),
     ("weights", "checks_counts", "prime counts", [(2, (1, 0, 3, 0)), (2, [1, 0, 3, 0]), (2, (1, 2, 0))]),
+    ("odds", "chance_full", "book odds", [(RING, HALF), (RING, list(HALF))]),
+    ("odds", "chance_free", "book odds", [(RING, HALF), (RING, list(HALF))]),
+    ("odds", "lack_table", "book odds", [(RING, HALF), (RING, list(HALF))]),
+    ("prices", "bases_sum", "book prices", [(RING, HALF), (RING, list(HALF))]),
+    ("prices", "best_bases", "book prices", [(RING, HALF), (RING, list(HALF))]),
+    ("parcels", "parcels_of", "book order", [(RING, (2, 0, 1)), (RING, [2, 0, 1])]),
+    ("parcels", "parcel_with", "book order lot", [(RING, (2, 0, 1), (0, 1)), (RING, [2, 0, 1], (0, 1)), (RING, (2, 0, 1), [0, 1])]),
+    ("parcels", "parcels_worth", "book order rule", [(RING, (2, 0, 1), ODD), (RING, [2, 0, 1], ODD), (RING, (2, 0, 1), list(ODD))]),
+    ("parcelchecker", "lets_parcels", "book thing", [((2, 0, ()), (((), (), ()),)), (RING, [((0, 1), (), (2,))]), (RING, ([(0, 1)],))]),
+    ("liveevents", "is_event", "thing", [(("cut", (0,)),), (["cut", [0]],), (("cut", [0]),)]),
+    ("liveevents", "is_log", "thing", [(LOG,), (list(LOG),), ((LOG[0], ["cut", [0]]),)]),
+    ("replaying", "replayed", "log", [(LOG,), (list(LOG),), ((*LOG, ("take", 9)),)]),
+    ("eventtexts", "event_line", "event", [(("cut", (0,)),), (["cut", [0]],)]),
+    ("eventtexts", "log_lines", "log", [(LOG,), (list(LOG),)]),
+    ("eventreadings", "read_event", "text", [("cut 0",), ("cut x",), (["cut 0"],)]),
+    ("eventreadings", "read_log", "lines", [(["book 2 0", "rule", "cut"],), (["book 2 0", "rule", "x"],), (("book 2 0", "rule"),)]),
 ]
 
 # For each class its module, its name, the parameters of its creation, and what its own body has to hold.
@@ -152,6 +170,11 @@ CLASSES = [
      "pairs_now tie_now rule_now __getitem__ __len__ __iter__ __eq__ of"),
     ("downclasses", "Going", "book rule steps", {"can_add": "step", "can_stand": "", "back": "", "__add__": "other"},
      "begun_now steps_now factor_now book_now rule_now is_done __len__ __iter__ __contains__ __eq__ of"),
+    ("live", "LiveBook", "book rule",
+     {"cut": "lot", "close": "lot", "take": "place", "give": "place four", "merge": "one other", "beside": "book rule", "go": "event",
+      "barred": "event", "tried": "events", "undo": "", "do_all": "events keep", "tally": "", "log": ""},
+     "MOST book_now rule_now factor_now kinds_now fits_now worth_now clash_now __getitem__ __contains__ __len__ __iter__ __eq__"),
+    ("desk", "Desk", "", {"say": "row", "counts": ""}, ""),
 ]
 
 

@@ -138,8 +138,9 @@ class Names(unittest.TestCase):
             known = set(defined(tree)) | set(imported(tree)) | BUILTINS
             for _, function in [each for each in nodes(FUNCTION) if each[0] == name]:
                 known |= set(bound_in(function))
+                known |= {node.name for node in ast.walk(function) if isinstance(node, ast.ExceptHandler)}
             for node in ast.walk(tree):
-                if isinstance(node, ast.Name):
+                if isinstance(node, ast.Name) and isinstance(node.ctx, ast.Load):
                     self.assertIn(node.id, known, name)
 
     def test_methods_that_are_called(self):
@@ -163,9 +164,16 @@ class Names(unittest.TestCase):
 
 class Code(unittest.TestCase):
     def test_nothing_barred(self):
-        kinds = (ast.Global, ast.AsyncFunctionDef, ast.Await, ast.Div, ast.GeneratorExp, ast.Set, ast.SetComp, ast.Try,
+        kinds = (ast.Global, ast.AsyncFunctionDef, ast.Await, ast.Div, ast.GeneratorExp, ast.Set, ast.SetComp, ast.TryStar,
                  ast.Delete, ast.Lambda, ast.NamedExpr)
         self.assertEqual(nodes(kinds), [])
+
+    def test_only_own_errors_are_caught(self):
+        own = defined(TREES["errors"])
+        for name, node in nodes(ast.Try):
+            self.assertEqual((node.orelse, node.finalbody), ([], []), name)
+            for handler in node.handlers:
+                self.assertIn(handler.type.id, own, name)
 
     def test_literals(self):
         for name, node in nodes(ast.Constant):
@@ -223,10 +231,21 @@ class Code(unittest.TestCase):
                     self.assertTrue(all(made.get(changed.id, [False])), (name, function.name, changed.id))
 
     def test_attributes_are_set_on_creation_only(self):
-        for name, function in nodes(ast.FunctionDef):
-            for node in ast.walk(function):
-                if isinstance(node, ast.Attribute) and isinstance(node.ctx, ast.Store):
-                    self.assertEqual((function.name, node.value.id), ("__init__", "self"), name)
+        # But for the two classes that change by their methods; what is only asked changes nothing there, either.
+        asks = {"barred", "tried", "tally", "log", "counts"}
+        for name, owner in nodes(ast.ClassDef):
+            for function in [item for item in owner.body if isinstance(item, ast.FunctionDef)]:
+                asked = function.name in asks or function.name.startswith("__") or function.decorator_list
+                sets = function.name == "__init__" or (owner.name in ("LiveBook", "Desk") and not asked)
+                for node in ast.walk(function):
+                    if isinstance(node, ast.Attribute) and isinstance(node.ctx, ast.Store):
+                        self.assertEqual((sets, node.value.id), (True, "self"), name)
+
+    def test_attributes_are_set_in_classes_only(self):
+        for name, tree in TREES.items():
+            for function in [item for item in tree.body if isinstance(item, ast.FunctionDef)]:
+                for node in ast.walk(function):
+                    self.assertFalse(isinstance(node, ast.Attribute) and isinstance(node.ctx, ast.Store), name)
 
 
 if __name__ == "__main__":

@@ -24,10 +24,11 @@ FAULTS = (
     # What stands where a row can begin.
     ("book 2 1 ", 3), ("book 2 1 1", 3), ("book 2 1 // 1", 3), ("book 2 1 /\n", 3), ("book 2 0 ", 3), ("book 2 0 1", 3),
     ("book 2 1  / 1", 3), ("book 2 1 / 1 ", 5), ("book 2 1 / 1 1", 5), ("book 2 1 / 1 x", 5), ("book 2 1 / 1  / 1", 5),
+    ("book 2 0 rule", 3), ("book 2 1 rule", 3), ("book 2 1 / 1 rule", 5), ("book 2 1 / 1 rule 1 1 3 2", 5), ("book 2 rule", 2), ("book rule", 1),
     # The digits.
     ("book 2 1 / 2", 4), ("book 2 1 / 01", 4), ("book 2 1 / ", 4), ("book 2 1 / /", 4), ("book 2 1 / 1\n", 4),
     ("book 3 2 / 1 3", 5), ("book 7 2 / 1 7", 5), ("book 2 3 / 1 / 1", 5), ("book 2 3 / 0 0 2", 6), ("book 2 3 / 0 0 ", 6),
-    ("book 2 1 / " + NINES, 4), ("book 2 1 / " + NINES + "9", 4), ("book 2 1 / -1", 4),
+    ("book 2 1 / " + NINES, 4), ("book 2 1 / " + NINES + "9", 4), ("book 2 1 / -1", 4), ("book 2 1 / rule", 4),
     ("book 2 3 / 1 1 0 / 0 1 2", 10), ("book 2 3 / 1 1 0 / 0 x 1", 9),
     # A whole row that is all 0, or not settled: its own /, ahead of all behind it.
     ("book 2 0 /", 3), ("book 2 0 / 1", 3), ("book 2 0 / /", 3), ("book 2 0 / ", 3), ("book 2 1 / 0", 3), ("book 2 1 / 0 x", 3),
