@@ -1,6 +1,6 @@
 """Events and logs read from lines."""
 
-from cutorclose.bookreadings import book_at, need_end, need_word, number_at, read_book
+from cutorclose.bookreadings import book_at, need_end, number_at, read_book
 from cutorclose.errors import InvalidText
 from cutorclose.needs import need
 from cutorclose.rulereadings import quotients_at, rule_at
@@ -52,10 +52,8 @@ def event_on(lines, line):
 
 
 def read_begin(text):
-    """The pair of the book and the rule of its size that a string writes behind the word begin."""
-    words = text.split(" ")
-    need_word(words, 0, "begin")
-    return book_and_rule_at(words, 1)
+    """The pair of the book and the rule of its size that a string writes behind its first word."""
+    return book_and_rule_at(text.split(" "), 1)
 
 
 def book_and_rule_at(words, start):

@@ -7,20 +7,29 @@ from fractions import Fraction
 from cutorclose.books import beside, checks_of
 from cutorclose.brackets import bracket, pair_gap
 from cutorclose.doubling import rowed, twinned
+from cutorclose.downchecker import lets_down
+from cutorclose.downpapers import down_paper
+from cutorclose.fitchecker import lets_fit
+from cutorclose.fitpapers import fit_paper
 from cutorclose.fitting import clash_of, fits, worth_of
+from cutorclose.holdings import first_untied
+from cutorclose.leavechecker import lets_left
+from cutorclose.leavepapers import leave_paper
 from cutorclose.leavings import pairs_of, rings_of, stars_of
 from cutorclose.letters import tuples_sum, words_sum
-from cutorclose.lotsums import lot_sum
+from cutorclose.lotsums import lot_sum, tied_rule
 from cutorclose.merging import merged_alike, merged_in_row
 from cutorclose.mendings import values_for
 from cutorclose.partings import parts_of
 from cutorclose.quotients import times
 from cutorclose.rulekinds import rule_of_checks
+from cutorclose.sumchecker import lets_sum
+from cutorclose.sumpapers import sum_paper
 from cutorclose.tieclasses import Tied
 from cutorclose.twins import are_alike, are_in_row
 from cutorclose.tyings import tie_of
 from tests import plain
-from tests.support import FOUR, RULE_BOOKS, Case, quotient, quotients, rules_of
+from tests.support import FOUR, GREAT, RULE_BOOKS, WIDE, Case, quotient, quotients, rules_of
 from tests.test_letters import fractions, letters_of
 
 CASES = [(book, rule) for book in RULE_BOOKS for rule in rules_of(book[1], 1, "guarantees")]
@@ -164,6 +173,47 @@ class Seventh(Case):
                     fit = plain.fits(book, (*rule[:place], four, *rule[place + 1:]))
                     self.assertEqual(fit, told == ("all",) or told == ("one", value))
         self.assertGreater(min(met.values()), 50)
+
+    def test_what_an_accepted_paper_states(self):
+        met = {"fits": 0, "clash": 0, "sums": 0, "down": 0, "held": 0}
+        # WIDE does not come down.
+        for book, rule in (*CASES[::2], *[(WIDE, rule) for rule in rules_of(4, 3, "papers of WIDE")]):
+            fit, worths = plain.fits(book, rule), plain.tree_worths(book, rule)
+            self.exact(lets_fit(book, rule, fit_paper(book, rule)), fit)
+            met["fits" if fit else "clash"] += 1
+            if first_untied(book, rule) is None:
+                self.assertEqual(worths, {Fraction(*lets_sum(book, rule, sum_paper(book, rule)))})
+                met["sums"] += 1
+            paper = down_paper(book, rule)
+            worth = lets_down(book, rule, paper)
+            met[paper[0]] += 1
+            self.assertEqual({end[1] > 0 for end in plain.ends(book)}, {paper[0] == "held"})
+            if worth is not None and fit:
+                self.assertEqual(worths, {Fraction(*worth)})
+        self.assertGreater(min(met.values()), 20)
+
+    def test_what_a_paper_of_what_can_be_left_states(self):
+        judges = {"pair": plain.is_pair, "ring": plain.is_ring, "star": plain.is_star}
+        for book in RULE_BOOKS:
+            for many in (2, 3):
+                for lot in itertools.combinations(range(book[1]), many):
+                    word = lets_left(book, lot, leave_paper(book, lot))
+                    if word == "apart":
+                        told = [plain.closings(book, lot, judge) for judge in judges.values()]
+                        self.assertEqual(told, [[], [], []])
+                    else:
+                        self.assertNotEqual(plain.closings(book, lot, judges[word]), [])
+
+    def test_long_quotients_are_exact(self):
+        # Numbers of sixty figures at all of eight places.
+        pair = ((GREAT, GREAT - 1), (GREAT - 2, GREAT - 4))
+        tie = ((1, GREAT), (GREAT, 1))
+        book = (2, 8, ((1, 0, 1, 0, 0, 0, 0, 0), (0, 1, 1, 0, 0, 0, 0, 0), (0, 0, 0, 1, 0, 0, 0, 1)))
+        rule = tied_rule((pair,) * 8, tie)
+        worth = worth_of(book, rule)
+        self.exact(worth, lot_sum(book, (pair,) * 8, tie))
+        self.exact(worth, quotient(plain.tie_sum(book, rule, Fraction(*tie[0]), Fraction(*tie[1]))))
+        self.exact(worth, quotient(plain.worth_by(book, rule, (7, 2, 5, 0, 1, 3, 6, 4))))
 
 
 if __name__ == "__main__":
