@@ -109,8 +109,10 @@ def after_merge(state, event):
     """All after two places are made one."""
     book, rule, factor = state
     one, other = event[1:]
-    merge = merged_alike if are_alike(book, one, other) else merged_in_row
-    left, rest = merge(book, rule, one, other)
+    if are_alike(book, one, other):
+        left, rest = merged_alike(book, rule, one, other)
+    else:
+        left, rest = merged_in_row(book, rule, one, other)
     return (left, rest, factor)
 
 

@@ -23,8 +23,8 @@ def lack_table(book, odds):
     pairs = pairs_by(book, odds)
     size, whole = book[1], rank_of(book)
     chances = [lot_chance(whole, pairs, lot, rank) for lot, rank in zip(all_lots(size), ranks_of(book))]
-    lacks, extras = range(whole + 1), range(size - whole + 1)
-    return tuple([tuple([chance_at(chances, lack, extra) for extra in extras]) for lack in lacks])
+    spots = [[(lack, extra) for extra in range(size - whole + 1)] for lack in range(whole + 1)]
+    return tuple([tuple([chance_at(chances, lack, extra) for lack, extra in row]) for row in spots])
 
 
 def pairs_by(book, odds):
