@@ -204,7 +204,7 @@ class Consequences(Case):
             end = brought_down(book, (FOUR,) * book[1])[2]
             self.assertIn(end, ends)
             if end[1] <= 6:
-                self.assertEqual(len({plain.rank_kind(each) for each in sorted(ends)[:6]}), 1)
+                self.assertEqual(len({plain.rank_kind(each) for each in ends}), 1)
         self.exact([comes_down(book) for book in more], [False] * 5)
 
     def test_steps_chosen_at_will(self):
